@@ -1,0 +1,1 @@
+"""Nearanswer: programs whose deeds are answered by the nearest answerer."""
