@@ -134,3 +134,54 @@ class KindMaker:
 def kinded_programs(seed, many, depth=5):
     maker = KindMaker(seed)
     return [maker.program(depth) for _ in range(many)]
+
+
+class LetMaker:
+    """Makes programs with many lets, recs and functions, few of which have a kind that is hard to tell."""
+
+    def __init__(self, seed):
+        self.chance = random.Random(seed)
+        self.used = 0
+
+    def new(self):
+        self.used += 1
+        return "abcdefghijklmnopqrstuvwxyz"[self.used % 26] + "z"
+
+    def make(self, depth, scope):
+        roll = self.chance.random()
+        if scope and (depth == 0 or roll < 0.2):
+            return ("name", self.chance.choice(scope))
+        if depth == 0:
+            return self.chance.choice([("num", 1), ("shape", "Nil", ())])
+        inner = depth - 1
+        if roll < 0.55:
+            name = self.new()
+            one = self.make(inner, scope)
+            if self.chance.random() < 0.5:
+                one = self.function(inner, scope)
+            return ("let", name, one, self.make(inner, scope + [name]))
+        if roll < 0.62:
+            own, entry = self.new(), self.new()
+            return ("rec", own, entry, self.make(inner, scope + [own, entry]), self.make(inner, scope + [own]))
+        if roll < 0.7:
+            return self.function(inner, scope)
+        if roll < 0.82:
+            return ("call", self.make(inner, scope), self.make(inner, scope))
+        if roll < 0.86:
+            return ("do", "ask", self.make(inner, scope))
+        if roll < 0.9:
+            name = self.new()
+            pattern = self.chance.choice([("shapeis", "One", (("bind", name),)), ("bind", name)])
+            return ("match", self.make(inner, scope), ((pattern, self.make(inner, scope + [name])),))
+        if roll < 0.95:
+            return ("shape", "Two", (self.make(inner, scope), self.make(inner, scope)))
+        return ("shape", "One", (self.make(inner, scope),))
+
+    def function(self, depth, scope):
+        name = self.new()
+        return ("fun", name, self.make(depth, scope + [name]))
+
+
+def let_programs(seed, many, depth=5):
+    maker = LetMaker(seed)
+    return [maker.make(depth, []) for _ in range(many)]
