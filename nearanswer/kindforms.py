@@ -126,7 +126,7 @@ def fits_book(value):
         return False
     if not are_ascending([sort[0] for sort in value[0]]) or not are_ascending([deed[0] for deed in value[1]]):
         return False
-    if not are_unlike([tag for _, _, tags in value[0] + (TRUTH,) for tag, _ in tags]):
+    if not are_unlike([pair[0] for sort in value[0] + (TRUTH,) for pair in sort[2]]):
         return False
     return has_book_kinds(value)
 

@@ -161,7 +161,7 @@ class KindRules:
         """The one has the row of the answerer, and each deed of its rows once more."""
         kind, row = self.kinded(tree[1], path + (0,), names)
         tail = self.store.fresh_tail()
-        self.store.unite_rows(row, ({deed: 1 for deed, _, _, _ in tree[3]}, tail))
+        self.store.unite_rows(row, ({answer[0]: 1 for answer in tree[3]}, tail))
         result, own_row = self.kinded(tree[2][1], path + (1,), with_told(names, {tree[2][0]: ("one", kind)}))
         self.store.unite_rows(own_row, ({}, tail))
         for index, answer in enumerate(tree[3]):

@@ -21,8 +21,7 @@ def check_bounds_of(program):
 
 
 def is_kinded(book, program, paths):
-    store, _, _ = kinded_program(book, program, {path: True for path in paths})
-    return store.holds()
+    return kinded_program(book, program, {path: True for path in paths})[0].holds()
 
 
 def without_one(paths, index):

@@ -1,0 +1,159 @@
+"""[2]: conventions that hold for all functions: any values are taken, in order, and nothing is modified."""
+
+import copy
+import importlib
+import inspect
+import random
+import unittest
+
+from kinded import BOOK, N, OPT, kinded_programs
+from making import ANY, NO_PROGRAMS, NO_TREES, NUM, A, B, C, X, programs, trees
+from nearanswer import errors
+from nearanswer.carried import carried_of
+from nearanswer.flatforms import flat_form
+from nearanswer.stocks import cover_paper
+from nearanswer.testtrees import test_tree as tree_for
+from nearanswer.texts import read_tree
+from test_books import KINDINGS, NO_BOOKS, NO_KINDINGS
+from test_refusals import NO_PATHS
+from test_stocks import NO_STOCKS, STOCKS
+from test_testtrees import NO_ROWS, rows_of
+
+INTERFACE = {
+    "trees": "is_tree(value) is_pattern(value) tree_size(tree) tree_depth(tree) parts_of(tree) part_at(tree,path) "
+             "put_at(tree,path,other) all_paths(tree)",
+    "names": "free_names(tree) bound_names(tree) is_program(value) put_for(tree,name,value) with_plain_names(tree) are_alike(one,other)",
+    "texts": "tree_text(tree) tokens_of(text) read_tree(text)",
+    "rewriting": "is_value(value) shown_value(value) next_place(program) step_of(program) answerer_for(program)",
+    "runs": "run_of(program,most) course_of(program,most) words_of(program,most) deeds_of(program,most)",
+    "books": "is_book(value) is_kinding(book,value) plain_kinding(book,kinding) is_instance(book,narrow,wide) "
+             "common_kinding(book,kinding,wide)",
+    "kinds": "widest(book,program) has_kinding(book,program,kinding) deeds_left(book,program)",
+    "refusals": "kinded_at(book,program,paths) refusal_lot(book,program) is_refusal_lot(book,program,value)",
+    "testtrees": "are_rows(value) first_row(rows,value) is_test_tree(rows,plan) test_tree(rows)",
+    "stocks": "is_stock(value) is_of_stock(stock,value) value_left(stock,rows,index) idle_rows(stock,rows) cover_paper(stock,rows,index) "
+              "is_cover_paper(stock,rows,index,paper)",
+    "flatforms": "is_flat(tree) flat_form(tree)",
+    "carried": "is_carried(value) carried_of(flat) carried_back(carried)",
+}
+ROWS = [rows_of("Two(0, _)", "Two(x, 1)", "_"), rows_of("Yes()", "No()", "x"), (ANY,)]
+FLAT = [flat_form(read_tree(text)) for text in (A, B, C)]
+
+GOOD = {
+    "tree": trees(90, 8, 3) + programs(91, 4, 3), "program": programs(92, 6, 3) + kinded_programs(93, 6, 3),
+    "value": [NUM, ("fun", "x", X), ("shape", "Two", (NUM, NUM)), ((), (0,)), ("row", 0)], "path": [(), (0,), (1,), (0, 0)],
+    "name": ["x", "ask"], "text": [A, B, C, "", "1 +", "x # y"], "most": [0, 3, 9], "book": [BOOK, ((), ())],
+    "kinding": KINDINGS + [(OPT, ((), None)), (N, (("ask",), 0))], "paths": [(), ((),), ((), (0,))], "rows": ROWS, "stock": STOCKS,
+    "plan": [tree_for(rows) for rows in ROWS], "index": [0, 1, 3], "paper": [cover_paper(STOCKS[0], ROWS[1], 3), ("row", 0), ("none",)],
+    "flat": FLAT, "carried": [carried_of(flat) for flat in FLAT],
+}
+ALIKE = {"other": "tree", "one": "tree", "narrow": "kinding", "wide": "kinding"}
+WRONG = (NO_TREES + NO_PROGRAMS + NO_BOOKS + NO_KINDINGS + NO_PATHS + NO_STOCKS + NO_ROWS
+         + [errors.NearError("x"), errors.TooMany(1), -1, 10 ** 119, "\n", ("test", (), (), ()), ("split", (), ()), 7])
+
+
+def functions():
+    for module, told in INTERFACE.items():
+        for one in told.split():
+            name, arguments = one[:-1].split("(")
+            yield module, getattr(importlib.import_module("nearanswer." + module), name), arguments.split(",")
+
+
+class Bender:
+
+    def __init__(self, seed):
+        self.chance = random.Random(seed)
+
+    def good(self, argument):
+        return self.chance.choice(GOOD[ALIKE.get(argument, argument)])
+
+    def wrong(self):
+        return self.chance.choice(WRONG)
+
+    def bent(self, value):
+        """The value with something in it changed into something wrong, or left out, or doubled."""
+        if not isinstance(value, (tuple, list)) or not value or self.chance.random() < 0.15:
+            return self.chance.choice([self.wrong(), True, None, [], (), "x", 0, -1, "Two", ("num", 1), value, [value], (value,)])
+        at = self.chance.randrange(len(value))
+        roll = self.chance.random()
+        if roll < 0.08:
+            return list(value)
+        if roll < 0.14:
+            return value[:at] + value[at + 1:]
+        if roll < 0.2:
+            return value[:at] + value[at:at + 1] + value[at:]
+        return value[:at] + type(value)([self.bent(value[at])]) + value[at + 1:]
+
+
+class ConventionsTest(unittest.TestCase):
+
+    def test_interface(self):
+        for module, function, arguments in functions():
+            self.assertEqual(list(inspect.signature(function).parameters), arguments, function)
+            self.assertEqual(function.__module__, "nearanswer." + module)
+            self.assertTrue(function.__doc__)
+
+    def test_any_values_are_taken(self):
+        bender = Bender(94)
+        for _, function, arguments in functions():
+            for _ in range(250):
+                values = []
+                for argument in arguments:
+                    value = bender.good(argument)
+                    roll = bender.chance.random()
+                    if roll < 0.15:
+                        value = bender.wrong()
+                    elif roll < 0.7:
+                        value = bender.bent(value)
+                    values.append(value)
+                self.check_call(function, values)
+
+    def check_call(self, function, values):
+        before = repr(values)
+        told = self.outcome(function, values)
+        again = self.outcome(function, values)
+        self.assertEqual(told, again)
+        self.assertEqual(repr(values), before)
+
+    def outcome(self, function, values):
+        try:
+            return function(*values)
+        except errors.NearError as error:
+            return (type(error), vars(error))
+
+    def test_the_first_wrong_argument_tells_the_error(self):
+        """With all arguments behind it wrong, too, a wrong argument raises what it raises with good ones behind it."""
+        bender = Bender(95)
+        for _, function, arguments in functions():
+            for at in range(len(arguments) - 1):
+                for _ in range(60):
+                    ahead = [bender.good(argument) for argument in arguments[:at]]
+                    wrong = bender.bent(bender.good(arguments[at]))
+                    behind = [bender.good(argument) for argument in arguments[at + 1:]]
+                    told = self.outcome(function, ahead + [wrong] + [errors.NearError("wrong") for _ in behind])
+                    good = self.outcome(function, ahead + [wrong] + behind)
+                    if self.is_wrong(good) and good[0] is not errors.TooMany and self.raised_at(function, ahead, wrong, behind, bender, arguments, at):
+                        self.assertEqual(told, good, (function, ahead, wrong))
+
+    def raised_at(self, function, ahead, wrong, behind, bender, arguments, at):
+        """Whether it is this argument that is wrong: no values behind it help."""
+        for _ in range(6):
+            more = [bender.good(argument) for argument in arguments[at + 1:]]
+            if not self.is_wrong(self.outcome(function, ahead + [wrong] + more)):
+                return False
+        fitting = [bender.good(argument) for argument in arguments[at:]]
+        return not self.is_wrong(self.outcome(function, ahead + fitting))
+
+    def is_wrong(self, told):
+        return isinstance(told, tuple) and len(told) == 2 and isinstance(told[0], type)
+
+    def test_lists_are_new(self):
+        bender = Bender(96)
+        for _, function, arguments in functions():
+            for _ in range(30):
+                values = [bender.good(argument) for argument in arguments]
+                told = self.outcome(function, values)
+                if isinstance(told, list):
+                    kept = copy.deepcopy(told)
+                    told.append("more")
+                    self.assertEqual(self.outcome(function, values), kept)
