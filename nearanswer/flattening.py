@@ -15,12 +15,12 @@ def holds_flat(tree):
         one = waiting.pop()
         if not is_flat_outside(one):
             return False
-        waiting.extend(flat_parts(one))
+        waiting.extend(parts_in(one))
     return True
 
 
 def is_flat_outside(tree):
-    """Whether a tree is flat as far as can be seen without looking into those of its parts that must be flat."""
+    """Whether a tree is flat, if its parts are: some of them must be atoms, and that of a let no let or rec."""
     word = tree[0]
     if word in ("call", "op", "do", "shape"):
         return all([is_atom(part) for part in parts_in(tree)])
@@ -29,13 +29,6 @@ def is_flat_outside(tree):
     if word == "let":
         return tree[2][0] != "let" and tree[2][0] != "rec"
     return True
-
-
-def flat_parts(tree):
-    """The parts of a tree that must be flat, if it is; that of a let that must be bare is one of them."""
-    if tree[0] in ("call", "op", "do", "shape"):
-        return []
-    return parts_in(tree)
 
 
 def is_flat_program(tree):
@@ -75,8 +68,6 @@ def flat_of(tree, names, at):
 def opened(tree, names, at):
     """The line of a tree, as the heads of lets and recs that lack their bodies, its bare tree, and that index."""
     word = tree[0]
-    if word == "num" or word == "name":
-        return ([], tree, at)
     if word == "let":
         line, bare, at = opened(tree[2], names, at)
         more, body, at = opened(tree[3], names, at)

@@ -2,8 +2,8 @@
 
 from nearanswer.checks import check_number, check_value
 from nearanswer.errors import InvalidStock
-from nearanswer.heads import (MOST_NESTED, asked_heads, heads_at, is_number_head, is_place, is_shape_head,
-                              left_with_head, left_without_head, may_be_looked_at, with_entry)
+from nearanswer.heads import (MOST_NESTED, asked_heads, is_number_head, is_place, is_shape_head, left_with_head,
+                              left_without_head, may_be_looked_at, with_entry)
 from nearanswer.kindforms import are_ascending
 from nearanswer.testtrees import check_rows
 from nearanswer.treeforms import begins_with_word, is_integer, is_tuple_of
@@ -114,7 +114,8 @@ def split_up(stock, rows, chosen):
         return (None, chosen)
     place = rows[0][1][0][0]
     cases = []
-    for what in whats_at(stock, rows, place):
+    # Numbers need no cases of their own: rows that ask for none of them cover these, too.
+    for what in stock:
         left = left_without_head(rows, place)
         if len(what) > 1:
             left = left_with_head(rows, place, what)
@@ -123,14 +124,6 @@ def split_up(stock, rows, chosen):
             return (None, gap)
         cases.append((what, paper))
     return (("split", place, tuple(cases)), None)
-
-
-def whats_at(stock, rows, place):
-    """What a split at a place has cases for: what the stock has, and the numbers that rows ask for."""
-    numbers = []
-    if NUMBERS in stock:
-        numbers = [head for head in heads_at(rows, place) if head[0] == "num"]
-    return sorted(list(stock) + numbers)
 
 
 def spare_number(rows):

@@ -20,7 +20,7 @@ NO_TREES = [
     ("rec", "f", "f", X, X), ("rec", "f", "x", X), ("rec", "f", "x", X, 1), ("rec", "f", "in", X, X),
     ("shape", "two", ()), ("shape", "Two", []), ("shape", "Two"), ("shape", "Two", (X,) * 5), ("shape", "Two", (X, 1)),
     ("shape", "TWo", ()), ("shape", "T2", ()), ("shape", "Abcdefghi", ()), ("match", X, ()), ("match", X, [(ANY, X)]),
-    ("match", X, ((ANY, X),) * 7), ("match", X, ((ANY,),)), ("match", X, (([], X),)), ("match", X, ([ANY, X],)),
+    ("match", X, ((ANY, X),) * 7), ("match", X, ((ANY,),)), ("match", X, ((ANY, X, X),)), ("match", X, (([], X),)), ("match", X, ([ANY, X],)),
     ("match", X, ((("bind", "do"), X),)), ("match", X, ((("numis", True), X),)), ("match", X, ((("numis", 10 ** 13), X),)),
     ("match", X, ((("shapeis", "Two", (("bind", "x"), ("bind", "x"))), X),)), ("match", X, ((("any", 1), X),)),
     ("op", "/", X, X), ("op", "+", X), ("op", "+", X, X, X), ("op", ["+"], X, X), ("op", "", X, X), ("do", "Ask", X),

@@ -41,7 +41,7 @@ def sized(size):
 
 NO_KINDINGS = [
     None, (), N, (N,), (N, NO_ROW, 1), [N, NO_ROW], (N, ()), (N, ((),)), (N, [(), None]), (N, ([], None)), (N, ((), True)),
-    (N, ((), -1)), (N, ((), 100)), (N, ((), "0")), (N, (("cry",), None)), (N, (("stop", "ask"), None)), (N, ((1,), None)),
+    (N, ((), -1)), (N, ((), 100)), (N, ((), "0")), (N, (("cry",), None)), (N, ((), None, None)), (N, (([],), None)), (N, (((),), None)), (("kind", "opt", (N,)), NO_ROW), (N, (("stop", "ask"), None)), (N, ((1,), None)),
     (("num", 1), NO_ROW), (("open",), NO_ROW), (("open", True), NO_ROW), (("open", -1), NO_ROW), (("open", 100), NO_ROW),
     (("open", None), NO_ROW), (("sort", "opt", ()), NO_ROW), (("sort", "opt", (N, N)), NO_ROW), (("sort", "opt", [N]), NO_ROW),
     (("sort", "list", ()), NO_ROW), (("sort", "truth", (N,)), NO_ROW), (("sort", ["opt"], (N,)), NO_ROW), (opt(1), NO_ROW),
@@ -126,6 +126,13 @@ class BooksTest(unittest.TestCase):
         self.assertIs(is_kinding(((), ()), (TRUTH, NO_ROW)), True)
         self.assertIs(is_kinding(((), ()), (OPT, NO_ROW)), False)
         self.assertIs(is_kinding(((), ()), (N, (("ask",), None))), False)
+
+    def test_shared_kinds_are_counted_as_often_as_they_stand(self):
+        kind = N
+        for _ in range(59):
+            kind = pair(kind, kind)
+        self.assertIs(is_kinding(BOOK, (kind, NO_ROW)), False)
+        self.assertIs(is_book((BOOK[0], BOOK[1] + (("z", kind, N),))), False)
 
     def test_wrong_arguments(self):
         good = (N, NO_ROW)

@@ -123,6 +123,8 @@ class CarriedTest(unittest.TestCase):
         self.check_no_form((tuple(("", (), "a", body) for _ in range(40)), body))
         chain = tuple(("", (), "a", ("make", at + 1)) for at in range(2000))
         self.check_no_form((chain, ("make", 0)))
+        chain = tuple(("a", (), "b", ("let", "a", ("make", at + 1), NUM)) for at in range(2000))
+        self.check_no_form((chain, ("let", "a", ("make", 0), NUM)))
         deep = ()
         for _ in range(299):
             deep = (deep,)

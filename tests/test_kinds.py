@@ -93,6 +93,18 @@ class KindsTest(unittest.TestCase):
                 ("fun u -> let f = fun g -> g u in Two(f (fun x -> x), f (fun x -> No()))", (fun(O[0], pair(O[0], TRUTH), PURE), ((), 1)))]:
             self.assertEqual(kind(text), told, text)
 
+    def test_rows_that_stills_share_with_names_outside(self):
+        for text in [
+                "let k = fun f -> let g = fun x -> let y = f 1 in x in g in Two(k (fun x -> do ask x) 5, k)",
+                "let k = fun f -> let g = fun x -> let y = f 1 in x in One(g) in Two(k (fun x -> do ask x), k)",
+                "let k = fun f -> let g = fun x -> let y = f 1 in x in let h = One(g) in h in Two(k (fun x -> do ask x), k (fun x -> x))",
+                "let k = fun u -> let g = fun x -> u in let h = Two(g, g) in h in Two(k 1, k No())",
+                "fun f -> let g = fun x -> let y = f 1 in x in let h = g in let i = h in Two(i 1, Two(h No(), i))",
+                "fun f -> let g = fun x -> f x in let h = g in (fun z -> do ask (f 1)) (h 2)"]:
+            program = read_tree(text)
+            self.assertEqual(widest(BOOK, program), told_widest(BOOK, program), text)
+            self.assertIsNotNone(widest(BOOK, program), text)
+
     def test_recs_at_two_kinds(self):
         self.assertEqual(kind("rec i x = x in Two(i 1, i No())"), (pair(N, TRUTH), PURE))
         self.assertIsNone(kind("rec i x = let y = i 1 in let z = i No() in x in i"))
@@ -229,11 +241,60 @@ class BoundsTest(unittest.TestCase):
             tree = ("let", "va", ("fun", "x", X), tree)
             self.assertEqual(deeds_left(BOOK, tree), ["ask"])
             self.assertEqual(widest(BOOK, tree), (N, row("ask")))
-            last = read_tree("match 1 {1 -> vl; _ -> vl}") if wide == 1 else ("name", "vl")
-            tree = put_last(tree, last)
-            checked(self, (TooMany, {"limit": 400}), widest, BOOK, tree)
-            self.assertEqual(deeds_left(BOOK, tree), [])
-            self.assertIs(has_kinding(BOOK, tree, (pair(N, N), PURE)), False)
+            for last in (read_tree("match 1 {1 -> vl; _ -> vl}"), ("name", "vl")):
+                tree = put_last(tree, last)
+                checked(self, (TooMany, {"limit": 400}), widest, BOOK, tree)
+                self.assertEqual(deeds_left(BOOK, tree), [])
+                self.assertIs(has_kinding(BOOK, tree, (pair(N, N), PURE)), False)
+
+    def test_bounds_of_kindings(self):
+        def leaves(many, leaf):
+            if many == 1:
+                return leaf
+            return ("shape", "Two", (leaves(many // 2, leaf), leaves(many - many // 2, leaf)))
+        fits = [leaves(100, ("fun", "x", X)), leaves(200, NUM), ("let", "n", leaves(100, NUM), ("shape", "Two", (("name", "n"), ("name", "n")))),
+                ("let", "i", ("fun", "x", X), leaves(100, ("name", "i")))]
+        for program in fits:
+            self.assertIsNotNone(widest(BOOK, program))
+        great = [leaves(101, ("fun", "x", X)), ("let", "n", leaves(100, NUM), leaves(3, ("name", "n"))), ("let", "i", ("fun", "x", X), leaves(101, ("name", "i")))]
+        for program in great:
+            checked(self, (TooMany, {"limit": 400}), widest, BOOK, program)
+        deep = NUM
+        for many in range(61):
+            program = ("let", "n", deep, ("shape", "One", (("name", "n"),)))
+            if many <= 58:
+                self.assertIsNotNone(widest(BOOK, program))
+            else:
+                checked(self, (TooMany, {"limit": 60}), widest, BOOK, program)
+            deep = ("shape", "One", (deep,))
+
+    def test_deeds_count_in_kindings(self):
+        """A kinding of a size of 400: as many deeds as there may be beside its kinds, and one more."""
+        text = "fun f -> answer f 1 {plain x -> x; ask x k -> 1; pick x k -> 1; stop x k -> 1}"
+        again = "(fun f -> fun x -> answer f x {plain x -> x; ask x k -> 1; pick x k -> 1; stop x k -> 1})"
+        program = read_tree(text)
+        self.assertEqual(widest(BOOK, program)[0][1][2][0], ("ask", "pick", "stop"))
+        lets = "let a = " + again + " in let b = fun z -> a (a z) in let c = fun z -> b (b z) in let d = fun z -> c (c z) in "
+        lets += "let e = fun z -> d (d z) in let g = fun z -> e (e z) in let h = fun z -> g (g z) in "
+        told = widest(BOOK, read_tree(lets + "fun z -> h z"))
+        self.assertEqual(len(told[0][1][2][0]), 3 * 64)
+        self.assertEqual(len(widest(BOOK, read_tree(lets + "fun z -> h (h z)"))[0][1][2][0]), 3 * 128)
+        lets += "let s = fun f -> fun x -> answer f x {plain x -> x; ask x k -> 1} in "
+        full = widest(BOOK, read_tree(lets + "fun z -> a (b (h (h z)))"))
+        self.assertEqual(len(full[0][1][2][0]), 393)
+        self.assertIs(is_kinding(BOOK, full), True)
+        checked(self, (TooMany, {"limit": 400}), widest, BOOK, read_tree(lets + "fun z -> s (a (b (h (h z))))"))
+
+    def test_more_open_kinds_than_a_kinding_handed_in_may_have(self):
+        tree = ("shape", "Nil", ())
+        for _ in range(7):
+            self.assertIs(is_kinding(BOOK, widest(BOOK, tree)), True)
+            tree = ("shape", "Two", (tree, tree))
+        told = [widest(BOOK, tree)[0]]
+        for _ in range(7):
+            told = [part for kind in told for part in kind[2]]
+        self.assertEqual(told, [opt(("open", at)) for at in range(128)])
+        self.assertIs(is_kinding(BOOK, widest(BOOK, tree)), False)
 
     def test_deep_kindings(self):
         def ones(many):

@@ -143,6 +143,10 @@ class PapersTest(unittest.TestCase):
         # A place at which a head was found can't be split; a part of it can, if it has none.
         split = ("split", (), ((NO, ("row", 0)), (TWO, ("row", 0))))
         self.assertIs(is_cover_paper(stock, rows, 1, split), False)
+        wide = rows_of("Two(_, _)", "Two(No(), _)")
+        for place, told in (((0,), False), ((1,), True), ((), False), ((2,), False)):
+            self.assertIs(is_cover_paper(stock, wide, 1, ("split", place, split[2])), told, place)
+        self.assertIs(is_cover_paper(stock, wide, 1, ("test", (1,), split[2])), False)
         rows = rows_of("Two(No(), No())", "Two(No(), Two(_, _))", "Two(No(), _)")
         good = ("split", (1,), ((NO, ("row", 0)), (TWO, ("row", 1))))
         self.assertIs(is_cover_paper(stock, rows, 2, good), True)
@@ -165,6 +169,8 @@ class PapersTest(unittest.TestCase):
         self.assertIs(is_cover_paper((NUMS,), rows, 2, ("split", ())), False)
         self.assertIs(is_cover_paper((NUMS,), rows, 2, ("split", (), ends, 1)), False)
         self.assertIs(is_cover_paper((NUMS,), rows, 2, ["split", (), ends]), False)
+        for head in (("name", 0), ("kind",), ("split", "Two", 2)):
+            self.assertIs(is_cover_paper((NUMS,), rows, 2, ("split", (), tuple(sorted(ends + ((head, ("row", 1)),))))), False)
         # Numbers are heads of their own only if the stock has numbers.
         rows = rows_of("Yes()", "x")
         ends = ((NO, ("row", 1)), (YES, ("row", 0)))

@@ -91,6 +91,12 @@ class TestTreesTest(unittest.TestCase):
         self.assertIs(is_test_tree(rows, ("test", (), ends + ((("shape", "Two", 5), LACK),), LACK)), False)
         self.assertIs(is_test_tree(rows, ("test", (), ends + ((("shape", "two", 0), LACK),), LACK)), False)
         self.assertIs(is_test_tree(rows, ("test", (), ends + ((("shape", "Two", True), LACK),), LACK)), False)
+        self.assertIs(is_test_tree(rows, ("test", (), ends + ((("split", "Two", 2), LACK),), LACK)), False)
+        self.assertIs(is_test_tree(rows, ("test", (), ((("name", 0), LACK),) + ends, LACK)), False)
+        self.assertIs(is_test_tree(rows, ("split", (), ends, LACK)), False)
+        self.assertIs(is_test_tree((ANY,), ("test", (), ends[:1], row(0))), True)
+        self.assertIs(is_test_tree((ANY,), ("test", (), (), row(0))), False)
+        self.assertIs(is_test_tree((ANY,), ("test", (), [ends[0]], row(0))), False)
 
     def test_places_that_cannot_be_tested(self):
         rows = (ANY,)
@@ -123,21 +129,20 @@ class TestTreesTest(unittest.TestCase):
         self.assertIs(is_test_tree(rows, plan), False)
 
     def test_sixty_tests_within_one_another(self):
-        def plan_of(many, otherwise):
-            """Tests of a place, of its parts, and so on, on one way."""
+        def plan_of(many, is_found):
+            """Tests of a place, of its parts, and so on, on one way, which goes on by a case or otherwise."""
             places = [()]
             at = 0
             while len(places) < many:
                 places.extend(places[at] + (index,) for index in range(4))
                 at += 1
             plan = row(0)
-            for place in reversed(places[:many]):
-                found = ((("shape", "Four", 4), plan),)
-                plan = ("test", place, found, row(0))
-            if otherwise:
-                plan = ("test", (), ((("shape", "Four", 4), plan[2][0][1]),), plan)
+            for index, place in reversed(list(enumerate(places[:many]))):
+                case, other = (plan, row(0)) if is_found or index < at else (row(0), plan)
+                plan = ("test", place, ((("shape", "Four", 4), case),), other)
             return plan
-        for many in (1, 59, 60, 61):
+        for many in (1, 2, 59, 60, 61):
+            self.assertIs(is_test_tree((ANY,), plan_of(many, True)), many <= 60)
             self.assertIs(is_test_tree((ANY,), plan_of(many, False)), many <= 60)
 
     def test_trees_by_all_values(self):

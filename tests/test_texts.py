@@ -64,7 +64,7 @@ class TextsTest(unittest.TestCase):
         for text in [
                 "1", "(-5)", "x", "fun x -> x", "fun x -> fun y -> x + y", "let x = fun y -> y in x", "rec f x = f x in f 1",
                 "Two(1, No())", "Two(fun x -> x, 1 < 2)", "match 1 < 2 {Yes() -> 1; No() -> fun x -> x}",
-                "match f x {Two(_, (-1)) -> 1; 0 -> 2; y -> y; _ -> 1}", "1 + 2 - 3", "1 - (2 - 3)", "1 + 2 * 3", "(1 + 2) * 3",
+                "match f x {Two(_, (-1)) -> 1; 0 -> 2; y -> y; _ -> 1}", "1 + 2 < 3", "1 - 2 = 3", "1 = 2 - 3", "1 * 2 < 3 * 4", "1 * 2 + 3", "1 * 2 - 3 * 4", "1 * 2 * 3", "f 1 * 2", "2 * f 1", "f 1 + f 2", "f 1 < f 2", "1 + 2 + 3 - 4", "do ask 1 * do ask 2", "(1 < 2) * 3", "(fun x -> x) * 3", "(fun x -> x) + 3", "(fun x -> x) < 3", "3 < (fun x -> x)", "3 * (fun x -> x)", "f (f x)", "f (1 * 2)", "(1 * 2) 3", "(1 - 2) * (3 + 4)", "1 + 2 - 3", "1 - (2 - 3)", "1 + 2 * 3", "(1 + 2) * 3",
                 "1 * (2 * 3)", "1 < 2 + 3", "(1 < 2) < 3", "1 < (2 = 3)", "f x y", "f (x y)", "f (-1)", "do ask 1 + 2",
                 "do ask (1 + 2)", "do ask (do ask 1)", "do ask x y", "do ask (x y)", "f (do ask 1)", "do ask f 1",
                 "(fun x -> x) 1", "(let x = 1 in x) + 1", "1 + (fun x -> x)", "f (fun x -> x)", "f match x {_ -> 1} No()",
@@ -247,6 +247,8 @@ class ReadingTest(unittest.TestCase):
         checked(self, at(1), read_tree, "(}" + "(" * 80)
         checked(self, InvalidTree, read_tree, "(}" + "(" * 81)
         checked(self, at(81), read_tree, "(" * 81 + "!")
+        checked(self, InvalidTree, read_tree, "((}" + "(" * 80)
+        checked(self, at(2), read_tree, "((}" + "(" * 79)
         deep = "match " * 59 + "(" * 79 + "x" + ")" * 79 + " {_ -> 1}" * 59
         checked(self, InvalidTree, read_tree, deep)
         shapes = "T(" * 80 + "x" + ")" * 80

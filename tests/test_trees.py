@@ -27,7 +27,7 @@ class TreesTest(unittest.TestCase):
             self.assertIs(is_tree(("match", NUM, ((ANY, NUM), (ANY, value)))), False, value)
 
     def test_names_and_tags(self):
-        for name in ("a", "z", "abcdefgh", "truth", "done", "funs", "le"):
+        for name in ("a", "z", "az", "za", "abcdefgh", "truth", "done", "funs", "le"):
             self.assertIs(is_tree(("name", name)), True, name)
         for name in NO_NAMES:
             self.assertIs(is_tree(("name", name)), False, name)
@@ -38,7 +38,7 @@ class TreesTest(unittest.TestCase):
         for name in BARRED:
             self.assertIs(is_tree(("fun", name, NUM)), False, name)
             self.assertIs(is_pattern(("bind", name)), False, name)
-        for tag in ("A", "Z", "Abcdefgh", "Fun", "Plain"):
+        for tag in ("A", "Z", "Za", "Az", "Abcdefgh", "Fun", "Plain"):
             self.assertIs(is_tree(("shape", tag, ())), True, tag)
         for tag in ("", "a", "AB", "A1", "A ", "Abcdefghi", None, 1, ("A",), "A\n"):
             self.assertIs(is_tree(("shape", tag, ())), False, tag)
