@@ -305,6 +305,13 @@ class BoundsTest(unittest.TestCase):
         self.assertIsNotNone(widest(BOOK, ones(59)))
         checked(self, (TooMany, {"limit": 60}), widest, BOOK, ones(60))
         self.assertEqual(deeds_left(BOOK, ones(110)), [])
+        tree = read_tree("do ask 1")
+        for many in range(61):
+            if many <= 59:
+                self.assertIs(is_kinding(BOOK, widest(BOOK, tree)), True)
+            else:
+                checked(self, (TooMany, {"limit": 60}), widest, BOOK, tree)
+            tree = ("fun", "x", tree)
         twice = read_tree("let a = fun x -> One(One(x)) in let b = fun x -> a (a x) in let c = fun x -> b (b x) in "
                           "let d = fun x -> c (c x) in let e = fun x -> d (d x) in let f = fun x -> e (e x) in f")
         checked(self, (TooMany, {"limit": 60}), widest, BOOK, twice)
