@@ -24,8 +24,13 @@ def check_program(value):
         raise InvalidProgram("names are free in this tree")
 
 
+def is_value_program(value):
+    """Whether any value is a value that is a program."""
+    return fits_program(value) and holds_value(value)
+
+
 def check_value(value):
-    if not fits_program(value) or not holds_value(value):
+    if not is_value_program(value):
         raise InvalidValue("this is no value that is a program")
 
 

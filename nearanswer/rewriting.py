@@ -1,13 +1,12 @@
 """Values, next places, and single steps of slow rewriting."""
 
-from nearanswer.bindings import fits_program
-from nearanswer.checks import check_program, check_value
+from nearanswer.checks import check_program, check_value, is_value_program
 from nearanswer.work import end_of, holds_value, nearest_answerer, next_spot, shown, stepped
 
 
 def is_value(value):
     """Whether any value is a program that is a value."""
-    return fits_program(value) and holds_value(value)
+    return is_value_program(value)
 
 
 def shown_value(value):

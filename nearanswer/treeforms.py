@@ -203,20 +203,33 @@ def fits_tree(value):
 
 
 def measure(tree):
-    """The size and the depth of what is a tree but for them; a size above the bound may be told too small."""
+    """The size and the depth of what is a tree but for them; of a size above the bound both may be told too small."""
     size = 0
     depth = 0
     waiting = [(tree, 1)]
     while waiting and size <= MOST_SIZE:
         one, deep = waiting.pop()
         size = size + 1
-        depth = max(depth, deep)
-        for pattern in patterns_in(one):
-            more, deeper = pattern_measure(pattern)
-            size = size + more
-            depth = max(depth, deep + deeper)
-        waiting.extend([(part, deep + 1) for part in parts_in(one)])
+        if deep > depth:
+            depth = deep
+        for inner in trees_and_patterns_in(one):
+            waiting.append((inner, deep + 1))
     return (size, depth)
+
+
+def trees_and_patterns_in(one):
+    """All trees and patterns that stand directly in a tree or in a pattern."""
+    word = one[0]
+    if word == "shape" or word == "shapeis":
+        return one[2]
+    if word in PART_SLICES:
+        low, high = PART_SLICES[word]
+        return one[low:high]
+    if word == "match":
+        return [one[1]] + [row[0] for row in one[2]] + [row[1] for row in one[2]]
+    if word == "answer":
+        return [one[1], one[2][1]] + [row[3] for row in one[3]]
+    return ()
 
 
 def is_within_bounds(tree):

@@ -145,12 +145,17 @@ def changed_at(spot):
     return put_in(spot[2][1], {spot[2][0]: spot[1]})
 
 
-def row_for(answerer, deed):
-    """The row of an answerer for a deed, None if it has none."""
-    for row in answerer[3]:
+def row_in(rows, deed):
+    """The row of an answerer's rows for a deed, None if there is none."""
+    for row in rows:
         if row[0] == deed:
             return row
     return None
+
+
+def row_for(answerer, deed):
+    """The row of an answerer for a deed, None if it has none."""
+    return row_in(answerer[3], deed)
 
 
 def nearest_answerer(trail, deed):
@@ -166,11 +171,15 @@ def rest_of(trail):
     return ("fun", "it", put_around(trail, ("name", "it")))
 
 
+def answering(trail, spot, at):
+    """The body of the row that answers a deed at a place of the trail, with the value and the rest put in."""
+    _, entry, rest, body = row_for(trail[at][0], spot[1])
+    return put_in(body, {entry: spot[2], rest: rest_of(trail[at:])})
+
+
 def answered(trail, spot, at):
     """The program behind a deed that is answered at a place of the trail."""
-    _, entry, rest, body = row_for(trail[at][0], spot[1])
-    body = put_in(body, {entry: spot[2], rest: rest_of(trail[at:])})
-    return put_around(trail[:at], body)
+    return put_around(trail[:at], answering(trail, spot, at))
 
 
 def end_of(program):
@@ -178,6 +187,11 @@ def end_of(program):
     if holds_value(program):
         return ("value", program)
     trail, spot = next_spot(program)
+    return stop_at(trail, spot)
+
+
+def stop_at(trail, spot):
+    """The end of a program that is no value, by its next place; None if it does a step there."""
     if spot[0] == "do":
         if nearest_answerer(trail, spot[1]) is None:
             return ("unanswered", spot[1], spot[2])

@@ -10,14 +10,19 @@ from kinded import BOOK, N, OPT, kinded_programs
 from making import ANY, NO_PROGRAMS, NO_TREES, NUM, A, B, C, X, programs, trees
 from nearanswer import errors
 from nearanswer.carried import carried_of
+from nearanswer.flatcode import code_of
 from nearanswer.flatforms import flat_form
 from nearanswer.stocks import cover_paper
 from nearanswer.testtrees import test_tree as tree_for
 from nearanswer.texts import read_tree
 from test_books import KINDINGS, NO_BOOKS, NO_KINDINGS
+from test_flatcode import NO_CODES
+from test_heaps import CELL, HEAPS, NO_HEAPS
 from test_refusals import NO_PATHS
+from test_shownalike import ENGINES
 from test_stocks import NO_STOCKS, STOCKS
 from test_testtrees import NO_ROWS, rows_of
+from test_yields import NO_ANSWERS
 
 INTERFACE = {
     "trees": "is_tree(value) is_pattern(value) tree_size(tree) tree_depth(tree) parts_of(tree) part_at(tree,path) "
@@ -35,9 +40,23 @@ INTERFACE = {
               "is_cover_paper(stock,rows,index,paper)",
     "flatforms": "is_flat(tree) flat_form(tree)",
     "carried": "is_carried(value) carried_of(flat) carried_back(carried)",
+    "carriedruns": "run_carried(carried,most) words_carried(carried,most)",
+    "bytrees": "deed_tag(name) tag_deed(tag) is_without_deeds(tree) by_trees(program) end_told(value)",
+    "bynext": "by_next(program)",
+    "shownalike": "shown_by(program,engine,most) are_shown_alike(program,engine,other,most)",
+    "talks": "talk_of(program,answers,most) program_behind(program,answers,most) deed_tree(program,menu,deep,most)",
+    "flatcode": "is_code(value) code_of(program) program_of_code(code)",
+    "looking": "look_at(code) is_sound(code)",
+    "machine": "run_code(code,most,way) goings_of(code,most) copies_needed(code,most) pieces_of(code,most)",
+    "restuses": "uses_of(body,rest) tree_ends(body) rest_use(body,rest) row_uses(tree) use_paper(body,rest) is_use_paper(body,rest,value)",
+    "handedruns": "handed_run(program,most) answer_words(program,most)",
+    "handedtrees": "answered_deeds(tree) goes_on_last(tree) handed_tree(program)",
+    "yields": "yield_of(program,most) asked(program,answers,most)",
+    "heaps": "is_heap(value) are_roots(heap,value) reached_from(heap,roots) counts_in(heap,roots)",
 }
 ROWS = [rows_of("Two(0, _)", "Two(x, 1)", "_"), rows_of("Yes()", "No()", "x"), (ANY,)]
 FLAT = [flat_form(read_tree(text)) for text in (A, B, C)]
+CODES = [code_of(read_tree(text)) for text in (A, B, C)]
 
 GOOD = {
     "tree": trees(90, 8, 3) + programs(91, 4, 3), "program": programs(92, 6, 3) + kinded_programs(93, 6, 3),
@@ -45,10 +64,14 @@ GOOD = {
     "name": ["x", "ask"], "text": [A, B, C, "", "1 +", "x # y"], "most": [0, 3, 9], "book": [BOOK, ((), ())],
     "kinding": KINDINGS + [(OPT, ((), None)), (N, (("ask",), 0))], "paths": [(), ((),), ((), (0,))], "rows": ROWS, "stock": STOCKS,
     "plan": [tree_for(rows) for rows in ROWS], "index": [0, 1, 3], "paper": [cover_paper(STOCKS[0], ROWS[1], 3), ("row", 0), ("none",)],
-    "flat": FLAT, "carried": [carried_of(flat) for flat in FLAT],
+    "flat": FLAT, "carried": [carried_of(flat) for flat in FLAT], "tag": ["Ask", "X", "Let"], "engine": list(ENGINES), "answers": [(), (NUM,), (NUM, NUM)],
+    "menu": [(NUM,), (NUM, ("shape", "No", ()))], "deep": [0, 1, 2], "code": CODES, "way": ["copied", "moved", "needed"],
+    "body": trees(97, 6, 3) + [read_tree("k 1"), read_tree("k (k 1)"), read_tree("match x {0 -> k 1; _ -> k 2}")], "rest": ["k", "x"],
+    "pairs": [(), (("ask", NUM),), (("ask", NUM), ("pick", NUM))], "heap": HEAPS[:3] + HEAPS[5:9] + [(CELL, None, (("b",), (0,)))], "roots": [(), (0,), (None, ("num", 1))],
 }
 ALIKE = {"other": "tree", "one": "tree", "narrow": "kinding", "wide": "kinding"}
-WRONG = (NO_TREES + NO_PROGRAMS + NO_BOOKS + NO_KINDINGS + NO_PATHS + NO_STOCKS + NO_ROWS
+ALIKE_IN = {"are_shown_alike": {"other": "engine"}, "asked": {"answers": "pairs"}}
+WRONG = (NO_TREES + NO_PROGRAMS + NO_BOOKS + NO_KINDINGS + NO_PATHS + NO_STOCKS + NO_ROWS + NO_CODES + NO_HEAPS + NO_ANSWERS
          + [errors.NearError("x"), errors.TooMany(1), -1, 10 ** 119, "\n", ("test", (), (), ()), ("split", (), ()), 7])
 
 
@@ -57,6 +80,12 @@ def functions():
         for one in told.split():
             name, arguments = one[:-1].split("(")
             yield module, getattr(importlib.import_module("nearanswer." + module), name), arguments.split(",")
+
+
+def kinded_functions():
+    """The functions, and what kinds of values their arguments must be."""
+    for _, function, arguments in functions():
+        yield function, [ALIKE_IN.get(function.__name__, {}).get(argument, argument) for argument in arguments]
 
 
 class Bender:
@@ -95,7 +124,7 @@ class ConventionsTest(unittest.TestCase):
 
     def test_any_values_are_taken(self):
         bender = Bender(94)
-        for _, function, arguments in functions():
+        for function, arguments in kinded_functions():
             for _ in range(250):
                 values = []
                 for argument in arguments:
@@ -124,7 +153,7 @@ class ConventionsTest(unittest.TestCase):
     def test_the_first_wrong_argument_tells_the_error(self):
         """With all arguments behind it wrong, too, a wrong argument raises what it raises with good ones behind it."""
         bender = Bender(95)
-        for _, function, arguments in functions():
+        for function, arguments in kinded_functions():
             for at in range(len(arguments) - 1):
                 for _ in range(60):
                     ahead = [bender.good(argument) for argument in arguments[:at]]
@@ -149,7 +178,7 @@ class ConventionsTest(unittest.TestCase):
 
     def test_lists_are_new(self):
         bender = Bender(96)
-        for _, function, arguments in functions():
+        for function, arguments in kinded_functions():
             for _ in range(30):
                 values = [bender.good(argument) for argument in arguments]
                 told = self.outcome(function, values)

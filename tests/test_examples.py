@@ -10,9 +10,9 @@ FOLDER = os.path.join(HERE, "examples")
 
 
 def names_for(module):
-    """What an example may use: reading texts, flat forms, and all of the module that it stands under."""
+    """What an example may use: what examples of other modules use, and all of the module that it stands under."""
     names = {}
-    for one in ("texts", "runs", "flatforms", module):
+    for one in ("texts", "runs", "flatforms", "carried", "flatcode", "restuses", "bytrees", module):
         names.update(vars(importlib.import_module("nearanswer." + one)))
     return names
 

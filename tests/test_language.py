@@ -12,7 +12,7 @@ PACKAGE = os.path.join(ROOT, "nearanswer")
 BUILTINS = {"len", "range", "enumerate", "zip", "min", "max", "sum", "abs", "sorted", "int", "str", "bool", "list",
             "tuple", "dict", "set", "all", "any", "divmod", "type", "super", "ValueError", "TypeError"}
 METHODS = {"append", "copy", "count", "endswith", "extend", "find", "get", "index", "insert", "items", "join", "keys",
-           "pop", "replace", "rfind", "split", "startswith", "strip", "update", "values"}
+           "lower", "pop", "replace", "rfind", "split", "startswith", "strip", "update", "upper", "values"}
 BARRED_NODES = (ast.Lambda, ast.GeneratorExp, ast.Yield, ast.YieldFrom, ast.With, ast.Global, ast.Nonlocal, ast.Delete,
                 ast.AsyncFunctionDef, ast.Await, ast.AugAssign, ast.AnnAssign, ast.Starred, ast.NamedExpr, ast.Try,
                 ast.Match, ast.Import, ast.Set, ast.SetComp, ast.Div, ast.Assert, ast.FormattedValue)
