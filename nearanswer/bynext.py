@@ -40,7 +40,9 @@ def led_body(tree):
     if word == "rec":
         return (word, tree[1], tree[2], led_next(tree[3]), going_on(tree[4]))
     if word == "match":
-        rows = [(pattern, going_on(body)) for pattern, body in tree[2]]
+        rows = []
+        for pattern, body in tree[2]:
+            rows.append((pattern, going_on(body)))
         return ahead(tree[1], "One", (word, used("One"), tuple(rows)))
     if word == "do":
         return ahead(tree[2], "One", did(deed_shape(tree[1]), used("One"), used("Next")))
@@ -70,7 +72,9 @@ def led_parts(tree):
 
 def led_answerer(tree):
     """The body of what an answerer is led to; End is what comes next behind it."""
-    rows = [row[:3] + (with_end(row[3]),) for row in tree[3]]
+    rows = []
+    for row in tree[3]:
+        rows.append(row[:3] + (with_end(row[3]),))
     pair = (tree[2][0], with_end(tree[2][1]))
     rest = ("fun", "Again", ("call", gone_on()[2], used("End")))
     made = ("fun", "End", answerer_match(pair, rows, did(used("Deed"), used("Value"), rest)))

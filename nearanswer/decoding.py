@@ -173,5 +173,6 @@ class Decoder:
         rows = []
         for deed, block in blocks:
             both = self.new_names(2)
-            rows.append((deed,) + both + (self.block(block, bound + both, depth + 1),))
+            inner, _ = self.line(self.orders_in(block), 0, bound + both, depth + 1)
+            rows.append((deed,) + both + (inner,))
         return ("answer", one, (names[0], body), tuple(rows))
