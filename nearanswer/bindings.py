@@ -39,6 +39,14 @@ def with_added(table, names):
     return grown
 
 
+def with_told(table, more):
+    """The table with all that a newer table tells."""
+    grown = {name: table[name] for name in table}
+    for name in more:
+        grown[name] = more[name]
+    return grown
+
+
 def without(table, names):
     """The table without these names."""
     if not any([name in table for name in names]):

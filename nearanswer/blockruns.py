@@ -4,6 +4,7 @@ Values are ("num", number), ("shape", tag, parts, size, depth), ("block", index,
 the kept names, and ("rest", frames).
 """
 
+from nearanswer.bindings import with_told
 from nearanswer.errors import TooMany
 from nearanswer.treeforms import MOST_DEPTH, MOST_SIZE, parts_in
 from nearanswer.work import fitted, row_in, stuck_at, worked_out
@@ -171,7 +172,7 @@ class BlockRun:
         for pattern, body in rows:
             table = fitted(pattern, value)
             if table is not None:
-                self.go(body, {**self.names, **table})
+                self.go(body, with_told(self.names, table))
                 return
 
     def take_result(self, result):
@@ -183,18 +184,20 @@ class BlockRun:
     def answer(self, deed, value):
         """The nearest answerer, and what waits nearer, leave the line, and are the rest."""
         at = self.answerer_at(deed)
-        _, entry, rest, body = row_in(self.waiting[at][2], deed)
-        names = {**self.waiting[at][3], entry: value, rest: ("rest", self.waiting[at:])}
+        left = self.waiting[at:]
+        _, _, rows, names = left[0]
+        _, entry, rest, body = row_in(rows, deed)
         self.waiting = self.waiting[:at]
-        self.go(body, names)
+        self.go(body, {**names, entry: value, rest: ("rest", left)})
 
     def call(self, one, two):
         if one[0] == "rest":
             self.waiting = self.waiting + one[1]
             self.hand(two)
             return
-        own, _, entry, body = self.blocks[one[1]]
-        names = {**one[2], entry: two}
+        _, index, kept = one
+        own, _, entry, body = self.blocks[index]
+        names = {**kept, entry: two}
         if own == "":
             self.go(body, names)
         else:

@@ -31,8 +31,6 @@ def going_on(tree):
 def led_body(tree):
     """The body of the function to which a tree is led."""
     word = tree[0]
-    if word == "num" or word == "name":
-        return ("call", used("Next"), tree)
     if word == "fun":
         return ("call", used("Next"), ("fun", tree[1], led_next(tree[2])))
     if word == "let":
@@ -57,7 +55,7 @@ def ahead(tree, entry, body):
 
 
 def led_parts(tree):
-    """The body of what a call, an op or a shape is led to."""
+    """The body of what a tree is led to whose parts are all worked out, as are those of an op; an atom has none."""
     parts = parts_in(tree)
     names = PART_NAMES[:len(parts)]
     whole = with_parts(tree, [used(name) for name in names])

@@ -48,8 +48,6 @@ def by_trees(program):
 def led_tree(tree):
     """What a tree is led to within a program."""
     word = tree[0]
-    if word == "num" or word == "name":
-        return done(tree)
     if word == "fun":
         return done(("fun", tree[1], led_tree(tree[2])))
     if word == "let":
@@ -73,7 +71,7 @@ def after(tree, entry, body):
 
 
 def led_parts(tree):
-    """What a call, an op or a shape is led to."""
+    """What a tree is led to whose parts are all worked out, as are those of an op; an atom has none."""
     parts = parts_in(tree)
     names = PART_NAMES[:len(parts)]
     whole = with_parts(tree, [used(name) for name in names])

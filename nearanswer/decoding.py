@@ -38,7 +38,7 @@ def with_names(pattern, names, at):
 
 
 class Decoder:
-    """Reads orders as those of a tree, each one once at most.
+    """Reads orders as those of a tree, each one once at most, wherever orders say that they lead.
 
     What comes is looked at by its own code; here only that is found broken which would hinder reading.
     """
@@ -135,15 +135,13 @@ class Decoder:
         """The rows of a match whose first test has a place, and the place behind its last row."""
         rows = []
         while not self.is_broken and at < len(orders) and orders[at][0] == "test":
-            _, pattern, to = orders[at]
+            pattern = orders[at][1]
             names = self.new_names(binds_in(pattern))
             body, end = self.line(orders, at + 1, bound + names, depth + 1)
             named, _ = with_names(pattern, names, 0)
             rows.append((named, body))
-            # Names are freed ahead of the go; rows that would not follow upon one another are not read again.
+            # Names are freed ahead of the go.
             at = end + 1 + min(len(names), 1)
-            if to != at:
-                self.fail()
         return (tuple(rows), at)
 
     def joined(self, order, bound, trees):

@@ -4,6 +4,7 @@ Values are ("num", number), ("shape", tag, parts, shown), ("fun", entry, body, n
 names, and ("rest", frames).
 """
 
+from nearanswer.bindings import with_told
 from nearanswer.treeforms import parts_in, with_part
 from nearanswer.uses import end_indices, use_word
 from nearanswer.work import fitted, row_in, stuck_at, worked_out
@@ -211,7 +212,7 @@ class HandedRun:
         for pattern, body in rows:
             table = fitted(pattern, self.given)
             if table is not None:
-                self.go(body, {**names, **table})
+                self.go(body, with_told(names, table))
                 return
 
     def take_result(self, result):

@@ -11,13 +11,13 @@ MORE = ("more",)
 class Course:
     """A program on its way, held as the trail to its next place and the tree there, of a value without a trail.
 
-    Only what a step changes is measured: the size is exact, the depth may be less than it is told.
+    Only what a step changes is measured: all else is as deep as it was, and so not too deep.
     """
 
     def __init__(self, program):
         self.trail = []
         self.spot = program
-        self.size, self.depth = measure(program)
+        self.size = measure(program)[0]
         self.seek()
 
     def seek(self):
@@ -73,13 +73,10 @@ class Course:
         """Puts a tree in the place of one that goes, at the end of the trail."""
         size, depth = measure(tree)
         self.size = self.size - measure(gone)[0] + size
-        self.depth = max(self.depth, len(self.trail) + depth)
         self.spot = tree
         if self.size > MOST_SIZE:
             raise TooMany(MOST_SIZE)
-        if self.depth > MOST_DEPTH:
-            self.depth = measure(self.whole())[1]
-        if self.depth > MOST_DEPTH:
+        if len(self.trail) + depth > MOST_DEPTH:
             raise TooMany(MOST_DEPTH)
         self.seek()
 

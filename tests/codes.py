@@ -115,7 +115,7 @@ NO_ORDERS = [
     ("test", ("shapeis", "Two", [("any",)]), 1), ("test", ("shapeis", "two", ()), 1), ("test", ("shapeis", "Two", (("any",),) * 5), 1), ("test", (), 1),
     ("test", ("shapeis", "Two"), 1), ("test", ("numis", 10 ** 13), 1), ("lack", 1), ("go",), ("go", 1000), ("go", -1), ("go", True), ("do", "Ask"), ("do", "let"),
     ("do",), ("do", "ask", 1), ("answer", 1), ("answer", 1000, ()), ("answer", 1, []), ("answer", 1, (("ask",),)), ("answer", 1, (("ask", 1000),)),
-    ("answer", 1, (("ask", True),)), ("answer", 1, (("ask", 1), ("ask", 2))), ("answer", 1, tuple((deed, 1) for deed in "abcdefg")), ("answer", 1, (["ask", 1],)),
+    ("answer", 1, (("ask", True),)), ("answer", 1, (("ask", 1, 1),)), ("answer", 1, (("ask", 1), ("ask", 2))), ("answer", 1, tuple((deed, 1) for deed in "abcdefg")), ("answer", 1, (["ask", 1],)),
     ("answer", 1, (("Ask", 1),)), ("plain", 1), ("return", 1), ("other",), (1,), ("match", 1), ("bind", 1),
 ]
 

@@ -186,6 +186,21 @@ def with_plain_names_of(tree):
     return with_plain_names(tree) if is_tree(tree) else None
 
 
+def deep_shown(depth, inner=1):
+    """The shown form of a value of a depth, an inner one counted as 1."""
+    for _ in range(depth - 1):
+        inner = ("One", (inner,))
+    return inner
+
+
+def wide_shown(size):
+    """The shown form of a value of a size."""
+    if size == 1:
+        return 1
+    cuts = [(size - 1) * share // 4 for share in range(5)]
+    return ("Row", tuple(wide_shown(high - low) for low, high in zip(cuts, cuts[1:]) if high > low))
+
+
 class ByTreesTest(LedTest, unittest.TestCase):
 
     texts = TreeTexts
@@ -230,6 +245,17 @@ class ByTreesTest(LedTest, unittest.TestCase):
             for deed in ("ask", "done", "did", "a", "abcdefgh"):
                 self.assertEqual(end_told(("value", ("Did", ((deed.capitalize(), ()), shown, "fun")))), ("unanswered", deed, shown))
 
+    def test_bounds_of_shown_forms(self):
+        """What is shown is no greater, and no deeper, than values in trees are."""
+        for shown, told in [(deep_shown(119), True), (deep_shown(120), False), (wide_shown(2999), True), (wide_shown(3000), False), (deep_shown(290), False),
+                            (deep_shown(118, "fun"), True), (deep_shown(119, "fun"), False)]:
+            end = ("value", ("Done", (shown,)))
+            self.assertEqual(end_told(end), ("value", shown) if told else end)
+        deed = ("value", ("Did", (("Ask", ()), wide_shown(2996), "fun")))
+        self.assertEqual(end_told(deed)[0], "unanswered")
+        deed = ("value", ("Did", (("Ask", ()), wide_shown(2997), "fun")))
+        self.assertIs(end_told(deed), deed)
+
     def test_ends_that_come_back_as_they_are(self):
         values = [
             ("more",), ("stuck", "call"), ("value", 5), ("value", "fun"), ("value", ("Done", ())), ("value", ("Done", (1, 2))), ("value", ("Done", 1)),
@@ -239,7 +265,8 @@ class ByTreesTest(LedTest, unittest.TestCase):
             ("value", ("Did", (("Ask", (1,)), 1, "fun"))), ("value", ("Did", ("Ask", 1, "fun"))), ("value", ("Did", (1, 1, "fun"))),
             ("value", ("Did", (("ask", ()), 1, "fun"))), ("value", ("Did", (("Ask", ()), 1, "Fun"))), ("value", ("Done", (True,))), ("value", ("Done", (None,))),
             ("value", ("Done", ("x",))), ("value", ("Done", (10 ** 12 + 1,))), ("value", ("Did", (("Ask", ()), [1], "fun"))),
-            ("value", ("Did", ("fun", 1, "fun"))), None, 5, "value", (), [], True, ("value", ("Done", ((1, ()),))), ("value", ("Done", (("No", []),)))]
+            ("value", ("Did", ("fun", 1, "fun"))), None, 5, "value", (), [], True, ("value", ("Done", ((1, ()),))), ("value", ("Done", (("No", []),))),
+            ("value", ("Done", (("Row", (1,) * 5),))), ("value", ("Done", (("Row", (1,), 1),))), ("value", ("Done", (("Row",),))), ("value", ("Did", (("Ask", (), ()), 1, "fun")))]
         for word in BARRED:
             values.append(("value", ("Did", ((word.capitalize(), ()), 1, "fun"))))
         for value in values:

@@ -76,7 +76,7 @@ class LanguageTest(unittest.TestCase):
                     self.assertIsInstance(node.targets[0], ast.Name)
                     seen.append(node.targets[0].id)
                     for inner in ast.walk(node.value):
-                        self.assertNotIsInstance(inner, (ast.Call, ast.List, ast.ListComp, ast.DictComp))
+                        self.assertNotIsInstance(inner, (ast.Call, ast.List, ast.ListComp, ast.DictComp, ast.Name))
                 else:
                     self.assertIsInstance(node, ast.Expr)
                     self.assertIsInstance(node.value, ast.Constant)
@@ -176,6 +176,19 @@ class LanguageTest(unittest.TestCase):
                 if isinstance(node, ast.Call):
                     for keyword in node.keywords:
                         self.assertEqual(keyword.arg, "default", (name, node.lineno))
+
+    def test_methods_are_no_attributes(self):
+        methods, attributes = {}, {}
+        for name, module in self.each():
+            for node in module.body:
+                if isinstance(node, ast.ClassDef):
+                    for inner in ast.walk(node):
+                        if isinstance(inner, ast.FunctionDef) and not inner.name.startswith("__"):
+                            methods.setdefault(inner.name, (name, inner.lineno))
+                        elif isinstance(inner, ast.Attribute) and isinstance(inner.ctx, ast.Store):
+                            attributes.setdefault(inner.attr, (name, inner.lineno))
+        for word in methods:
+            self.assertNotIn(word, attributes, (methods[word], attributes.get(word)))
 
     def test_sets_and_identity(self):
         for name, module in self.each():
