@@ -216,6 +216,24 @@ class FlatCodeTest(unittest.TestCase):
         self.assertGreater(len(bound_names(many_names)), 3000)
         self.assertEqual(program_of_code(code_by_hand(many_names)), with_plain_names(many_names))
 
+    def test_deepest_programs(self):
+        """Each form as deep as can be, and codes of what would be deeper than any tree, by far, too."""
+        for form in [
+                lambda one: ("let", "x", one, NUM), lambda one: ("let", "x", NUM, one), lambda one: ("rec", "f", "x", one, NUM), lambda one: ("rec", "f", "x", NUM, one),
+                lambda one: ("fun", "x", one), lambda one: ("match", one, ((("any",), NUM),)), lambda one: ("match", NUM, ((("bind", "x"), one), (("any",), NUM))),
+                lambda one: ("answer", one, ("x", NUM), ()), lambda one: ("answer", NUM, ("x", one), (("ask", "e", "k", ("name", "k")),)),
+                lambda one: ("answer", NUM, ("x", NUM), (("ask", "e", "k", one),)), lambda one: ("call", one, NUM), lambda one: ("shape", "Two", (NUM, one)),
+                lambda one: ("do", "ask", one), lambda one: ("op", "+", NUM, one)]:
+            deep = NUM
+            for depth in range(2, 170):
+                deep = form(deep)
+                if depth == 119 or depth == 120:
+                    self.assertEqual(program_of_code(code_by_hand(deep)), with_plain_names(deep))
+                elif depth in (121, 122, 169):
+                    code = code_by_hand(deep)
+                    if is_code(code):
+                        self.assertIsNone(program_of_code(code))
+
     def test_sizes_of_400_and_401(self):
         self.assertEqual(code_of(sized(400)), code_by_hand(sized(400)))
         checked(self, (TooMany, {"limit": 400}), code_of, sized(401))
