@@ -45,7 +45,7 @@ class KindRules:
     def __init__(self, book, lot):
         self.store = KindStore()
         self.tags = tags_told(book)
-        self.deeds = deeds_told(book)
+        self.deed_kinds = deeds_told(book)
         self.lot = lot
 
     def kinded(self, tree, path, names):
@@ -175,9 +175,9 @@ class KindRules:
         return (result, ({}, tail))
 
     def kinds_of_deed(self, deed):
-        if deed not in self.deeds:
+        if deed not in self.deed_kinds:
             return (self.fails(), self.fails())
-        asked, given = self.deeds[deed]
+        asked, given = self.deed_kinds[deed]
         return (put_into(self.store, asked, {}, {}), put_into(self.store, given, {}, {}))
 
     def kinded_plainly(self, tree, path, names):

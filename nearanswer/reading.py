@@ -66,9 +66,9 @@ def compared(trees, signs):
 class Reader:
     """Reads the tokens of a text one after another; the place is that of the next token."""
 
-    def __init__(self, tokens, end):
+    def __init__(self, tokens, length):
         self.tokens = tokens
-        self.end = end
+        self.length = length
         self.place = 0
 
     def seen(self):
@@ -80,7 +80,7 @@ class Reader:
     def fail(self):
         if self.place < len(self.tokens):
             raise InvalidText(self.tokens[self.place][0])
-        raise InvalidText(self.end)
+        raise InvalidText(self.length)
 
     def step(self):
         """The next token, which is taken."""

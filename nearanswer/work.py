@@ -42,14 +42,19 @@ def shown_end(end):
     return end
 
 
+def worked_parts(tree):
+    """The first parts of a tree that are worked out before anything is done with it."""
+    word = tree[0]
+    if word == "rec":
+        return []
+    if word in ("let", "match", "do", "answer"):
+        return parts_in(tree)[:1]
+    return parts_in(tree)
+
+
 def working_index(tree):
     """The index of the part in which the next place lies, None if it is the tree itself."""
-    parts = parts_in(tree)
-    if tree[0] in ("let", "match", "do", "answer"):
-        parts = parts[:1]
-    elif tree[0] == "rec":
-        parts = []
-    for index, part in enumerate(parts):
+    for index, part in enumerate(worked_parts(tree)):
         if not holds_value(part):
             return index
     return None

@@ -12,7 +12,7 @@ FOLDER = os.path.join(HERE, "examples")
 def names_for(module):
     """What an example may use: what examples of other modules use, and all of the module that it stands under."""
     names = {}
-    for one in ("texts", "runs", "flatforms", "carried", "flatcode", "restuses", "bytrees", module):
+    for one in ("texts", "runs", "flatforms", "carried", "flatcode", "restuses", "bytrees", "holders", "library", module):
         names.update(vars(importlib.import_module("nearanswer." + one)))
     return names
 

@@ -10,12 +10,18 @@ ROOT = os.path.dirname(os.path.dirname(os.path.abspath(__file__)))
 PACKAGE = os.path.join(ROOT, "nearanswer")
 
 BUILTINS = {"len", "range", "enumerate", "zip", "min", "max", "sum", "abs", "sorted", "int", "str", "bool", "list",
-            "tuple", "dict", "set", "all", "any", "divmod", "type", "super", "ValueError", "TypeError"}
+            "tuple", "dict", "set", "all", "any", "divmod", "type", "super", "ValueError", "TypeError", "isinstance"}
 METHODS = {"append", "copy", "count", "endswith", "extend", "find", "get", "index", "insert", "items", "join", "keys",
            "lower", "pop", "replace", "rfind", "split", "startswith", "strip", "update", "upper", "values"}
-BARRED_NODES = (ast.Lambda, ast.GeneratorExp, ast.Yield, ast.YieldFrom, ast.With, ast.Global, ast.Nonlocal, ast.Delete,
-                ast.AsyncFunctionDef, ast.Await, ast.AugAssign, ast.AnnAssign, ast.Starred, ast.NamedExpr, ast.Try,
+MODIFYING = {"append", "clear", "extend", "insert", "pop", "remove", "reverse", "setdefault", "sort", "update", "add", "discard"}
+BARRED_NODES = (ast.Lambda, ast.GeneratorExp, ast.YieldFrom, ast.With, ast.Global, ast.Nonlocal, ast.Delete,
+                ast.AsyncFunctionDef, ast.Await, ast.AugAssign, ast.AnnAssign, ast.Starred, ast.NamedExpr,
                 ast.Match, ast.Import, ast.Set, ast.SetComp, ast.Div, ast.Assert, ast.FormattedValue)
+# What each kind of class may define besides plain methods; and functions that are called by a name of their caller's own.
+OPERATORS = {"__add__", "__sub__", "__mul__", "__or__", "__rshift__", "__invert__", "__bool__", "__contains__", "__getitem__"}
+LOOKING = OPERATORS | {"__eq__", "__len__", "__str__", "__repr__"}
+DUNDERS = LOOKING | {"__init__", "__iter__", "__iadd__", "__call__"}
+CALLED_LOCALS = {("spots.py", "rule"), ("lifebenches.py", "action"), ("lifevalues.py", "cls")}
 BARRED_NAMES = {"register", "mro", "elements", "open", "input", "law", "version_info", "with_traceback", "add_note",
                 "attrgetter", "breakpoint", "builtins", "compile", "copyright", "credits", "delattr", "dir", "eval",
                 "exec", "exit", "gc", "globals", "help", "id", "importlib", "license", "locals", "methodcaller", "os",
@@ -76,7 +82,10 @@ class LanguageTest(unittest.TestCase):
                     self.assertIsInstance(node.targets[0], ast.Name)
                     seen.append(node.targets[0].id)
                     for inner in ast.walk(node.value):
-                        self.assertNotIsInstance(inner, (ast.Call, ast.List, ast.ListComp, ast.DictComp, ast.Name))
+                        self.assertNotIsInstance(inner, (ast.Call, ast.List, ast.ListComp, ast.DictComp))
+                        # A table of functions that are defined above it.
+                        self.assertTrue(not isinstance(inner, ast.Name) or inner.id in [one.name for one in module.body if isinstance(one, ast.FunctionDef)
+                                                                                       and one.lineno < node.lineno], name)
                 else:
                     self.assertIsInstance(node, ast.Expr)
                     self.assertIsInstance(node.value, ast.Constant)
@@ -113,10 +122,49 @@ class LanguageTest(unittest.TestCase):
                     self.fail((where, type(node).__name__))
                 if isinstance(node, ast.Constant):
                     self.assertNotIsInstance(node.value, (float, complex), where)
-                if isinstance(node, (ast.FunctionDef, ast.ClassDef)) and node.decorator_list:
-                    self.fail((where, "decorator"))
+                if isinstance(node, ast.ClassDef):
+                    self.check_class(node, where)
+                elif isinstance(node, ast.FunctionDef) and node.decorator_list:
+                    self.assertIn(ast.unparse(node.decorator_list[0]), ("property", "classmethod"), where)
+                    self.assertEqual(len(node.decorator_list), 1, where)
+                if isinstance(node, ast.Try):
+                    self.check_try(node, where)
+                if isinstance(node, ast.Yield):
+                    self.assertIsNotNone(node.value)
                 if isinstance(node, ast.FunctionDef):
                     self.check_function(node, where)
+
+    def check_class(self, node, where):
+        self.assertEqual(node.decorator_list, [], where)
+        for one in node.body:
+            if isinstance(one, ast.FunctionDef):
+                self.assertTrue(one.name in DUNDERS or not one.name.startswith("__"), (where, one.name))
+                if one.name in DUNDERS - {"__init__", "__call__"}:
+                    names = {"__contains__": ["self", "x"], "__getitem__": ["self", "at"]}.get(one.name, ["self", "other"])
+                    self.assertEqual([arg.arg for arg in one.args.args], names[:len(one.args.args)], where)
+                if one.name in ("__len__", "__bool__", "__str__"):
+                    told = one.body[-1]
+                    self.assertIsInstance(told, ast.Return, where)
+                    if one.name != "__bool__":
+                        self.assertEqual(told.value.func.id, {"__len__": "len", "__str__": "str"}[one.name], where)
+            else:
+                self.assertTrue(isinstance(one, ast.Expr) and isinstance(one.value, ast.Constant), where)
+        names = [one.name for one in node.body if isinstance(one, ast.FunctionDef)]
+        if "__getitem__" in names:
+            self.assertIn("__iter__", names, where)
+
+    def check_try(self, node, where):
+        """Own errors are caught, or all is set back in a "finally" that only assigns names to attributes."""
+        for handler in node.handlers:
+            self.assertIsNone(handler.name, where)
+            for error in (handler.type.elts if isinstance(handler.type, ast.Tuple) else [handler.type]):
+                self.assertIn(error.id, {one.name for one in module_of("errors.py").body if isinstance(one, ast.ClassDef)}, where)
+        for one in node.finalbody:
+            self.assertIsInstance(one, ast.If, where)
+            self.assertRegex(ast.unparse(one.test), r"^[a-z]+ is not None$")
+            self.assertEqual(one.orelse, [])
+            for inner in one.body:
+                self.assertRegex(ast.unparse(inner), r"^self\._[a-z]+ = [a-z]+$")
 
     def check_function(self, node, where):
         self.assertLessEqual(node.end_lineno - node.lineno + 1, 40, where)
@@ -169,7 +217,8 @@ class LanguageTest(unittest.TestCase):
             known |= {node.name for node in module.body if isinstance(node, (ast.ClassDef, ast.FunctionDef))}
             for node in ast.walk(module):
                 if isinstance(node, ast.Call) and isinstance(node.func, ast.Name):
-                    self.assertIn(node.func.id, known | BUILTINS, (name, node.lineno))
+                    if (name, node.func.id) not in CALLED_LOCALS:
+                        self.assertIn(node.func.id, known | BUILTINS, (name, node.lineno))
                 elif isinstance(node, ast.Call):
                     self.assertIsInstance(node.func, ast.Attribute, (name, node.lineno))
                     self.assertIn(node.func.attr, METHODS | own_methods | {"__init__"}, (name, node.lineno))
@@ -189,6 +238,82 @@ class LanguageTest(unittest.TestCase):
                             attributes.setdefault(inner.attr, (name, inner.lineno))
         for word in methods:
             self.assertNotIn(word, attributes, (methods[word], attributes.get(word)))
+
+    def each_method(self):
+        """The triples (file, class, method) of all methods."""
+        return [(name, node, one) for name, module in self.each() for node in module.body if isinstance(node, ast.ClassDef)
+                for one in node.body if isinstance(one, ast.FunctionDef)]
+
+    def test_properties_class_methods_and_generators_have_names_of_their_own(self):
+        told = {}
+        for name, node, one in self.each_method():
+            kind = ast.unparse(one.decorator_list[0]) if one.decorator_list else "plain"
+            if any(isinstance(inner, ast.Yield) for inner in ast.walk(one)):
+                kind = "generator"
+            told.setdefault(one.name, set()).add(kind)
+        for word, kinds in told.items():
+            self.assertEqual(len(kinds), 1, word)
+        functions = {node.name for _, module in self.each() for node in module.body if isinstance(node, ast.FunctionDef)}
+        for word, kinds in told.items():
+            if kinds & {"classmethod", "generator"}:
+                self.assertNotIn(word, functions)
+
+    def test_what_only_looks_changes_nothing(self):
+        """Operators, properties and the like, and all that they call, change only lists and dicts that they made."""
+        functions, methods, starts = {}, {}, []
+        for name, module in self.each():
+            for node in module.body:
+                if isinstance(node, ast.FunctionDef):
+                    functions[(name, node.name)] = node
+        imports = {}
+        for name, module in self.each():
+            imports[name] = {alias.name: node.module.split(".")[1] + ".py" for node in module.body if isinstance(node, ast.ImportFrom) for alias in node.names}
+        for name, node, one in self.each_method():
+            methods.setdefault(one.name, []).append((name, one))
+            if one.name in LOOKING or (one.decorator_list and ast.unparse(one.decorator_list[0]) == "property"):
+                starts.append((name, one))
+        seen, waiting = set(), starts
+        while waiting:
+            name, node = waiting.pop()
+            if (name, node.name, node.lineno) in seen:
+                continue
+            seen.add((name, node.name, node.lineno))
+            self.check_changes_nothing(name, node)
+            for inner in ast.walk(node):
+                if isinstance(inner, ast.Call) and isinstance(inner.func, ast.Name):
+                    file = imports[name].get(inner.func.id, name)
+                    if (file, inner.func.id) in functions:
+                        waiting.append((file, functions[(file, inner.func.id)]))
+                    else:
+                        self.assertNotIn((name, inner.func.id), CALLED_LOCALS - {("lifevalues.py", "cls")})
+                elif isinstance(inner, ast.Attribute) and inner.attr in methods and not inner.attr.startswith("__"):
+                    waiting.extend(methods[inner.attr])
+        self.assertGreater(len(seen), 60)
+
+    def check_changes_nothing(self, name, node):
+        made = {}
+        for inner in ast.walk(node):
+            if isinstance(inner, ast.Assign):
+                for target in inner.targets:
+                    if isinstance(target, ast.Name):
+                        made.setdefault(target.id, []).append(self.is_made(inner.value))
+        for inner in ast.walk(node):
+            where = (name, node.name, getattr(inner, "lineno", 0))
+            if isinstance(inner, ast.Attribute) and isinstance(inner.ctx, ast.Store):
+                self.fail(where)
+            changed = None
+            if isinstance(inner, ast.Subscript) and isinstance(inner.ctx, ast.Store):
+                changed = inner.value
+            if isinstance(inner, ast.Call) and isinstance(inner.func, ast.Attribute) and inner.func.attr in MODIFYING:
+                changed = inner.func.value
+            if changed is not None:
+                self.assertIsInstance(changed, ast.Name, where)
+                self.assertTrue(made.get(changed.id) and all(made[changed.id]), where)
+
+    def is_made(self, value):
+        if isinstance(value, (ast.List, ast.Dict, ast.ListComp, ast.DictComp)):
+            return True
+        return isinstance(value, ast.Call) and isinstance(value.func, ast.Name) and value.func.id in ("list", "dict", "sorted")
 
     def test_sets_and_identity(self):
         for name, module in self.each():

@@ -12,6 +12,12 @@ FORMS = [
     ("shape", "No", ()), ("match", X, ((ANY, NUM), (("bind", "x"), X))), ("op", "<", NUM, X), ("do", "ask", X),
     ("answer", X, ("x", X), (("ask", "x", "k", X), ("tell", "x", "k", NUM))), ("answer", X, ("x", X), ()),
 ]
+NO_PATTERNS = [
+    None, (), [], "any", ("any", 1), ["any"], ("bind",), ("bind", "X"), ("bind", "x", "y"), ("numis",),
+    ("numis", True), ("shapeis", "Two"), ("shapeis", "two", ()), ("shapeis", "Two", []), NUM, X,
+    ("shapeis", "Two", (NUM,)), ("shapeis", "Two", (("bind", "x"), ("bind", "x"))),
+    ("shapeis", "Two", (("bind", "x"), ("shapeis", "Two", (("bind", "x"),)))), ("shape", "Two", ()), (["any"],),
+]
 
 
 class TreesTest(unittest.TestCase):
@@ -67,11 +73,7 @@ class TreesTest(unittest.TestCase):
         for pattern in good:
             self.assertIs(is_pattern(pattern), True, pattern)
             self.assertIs(is_tree(("match", NUM, ((pattern, NUM),))), True, pattern)
-        bad = [None, (), [], "any", ("any", 1), ["any"], ("bind",), ("bind", "X"), ("bind", "x", "y"), ("numis",),
-               ("numis", True), ("shapeis", "Two"), ("shapeis", "two", ()), ("shapeis", "Two", []), NUM, X,
-               ("shapeis", "Two", (NUM,)), ("shapeis", "Two", (("bind", "x"), ("bind", "x"))),
-               ("shapeis", "Two", (("bind", "x"), ("shapeis", "Two", (("bind", "x"),)))), ("shape", "Two", ()), (["any"],)]
-        for pattern in bad:
+        for pattern in NO_PATTERNS:
             self.assertIs(is_pattern(pattern), False, pattern)
             self.assertIs(is_tree(("match", NUM, ((pattern, NUM),))), False, pattern)
         # The same name may stand in the patterns of two rows.
