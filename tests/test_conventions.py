@@ -12,12 +12,17 @@ from nearanswer import errors
 from nearanswer.carried import carried_of
 from nearanswer.flatcode import code_of
 from nearanswer.flatforms import flat_form
+from nearanswer.heapruns import HeapRun
+from nearanswer.lifebenches import Bench
+from nearanswer.lifevalues import Code
 from nearanswer.stocks import cover_paper
 from nearanswer.testtrees import test_tree as tree_for
 from nearanswer.texts import read_tree
 from test_books import KINDINGS, NO_BOOKS, NO_KINDINGS
 from test_flatcode import NO_CODES
 from test_heaps import CELL, HEAPS, NO_HEAPS
+from test_lifebenches import SOME_STATES
+from test_lifemoves import MOVES, NO_MOVES, NO_STATES
 from test_refusals import NO_PATHS
 from test_shownalike import ENGINES
 from test_stocks import NO_STOCKS, STOCKS
@@ -53,7 +58,30 @@ INTERFACE = {
     "handedtrees": "answered_deeds(tree) goes_on_last(tree) handed_tree(program)",
     "yields": "yield_of(program,most) asked(program,answers,most)",
     "heaps": "is_heap(value) are_roots(heap,value) reached_from(heap,roots) counts_in(heap,roots)",
+    "collectors": "copied_heap(heap,roots) slid_heap(heap,roots) swept_heap(heap,roots) let_go(heap,roots) rings_held(heap,roots)",
+    "holders": "rings_in(heap) holders_of(heap,roots,address) held_by(heap,roots,address) way_to(heap,roots,address)",
+    "heapruns": "heap_run(program,most,clearing,every)",
+    "quiet": "is_sure(tree) is_quiet(tree) is_silent(tree,deed) open_place(tree) fit_seen(pattern,tree)",
+    "betterings": "is_bettering(tree,value) bettered(tree,bettering) all_betterings(tree)",
+    "betterpapers": "is_better_paper(tree,value) better_by(tree,paper) made_better(tree,most)",
+    "library": "row_value(values) row_items(value) with_state(value,program) with_faults(program) with_rows(program) with_choices(program) with_first(program) "
+               "with_turns(programs) with_reading(value,program) written_down(deed,program) done_anew(deed,row,program)",
+    "plainmodels": "told_state(value,program,most) told_faults(program,most) told_rows(program,most) told_choices(program,most) told_first(program,most) "
+                   "told_turns(programs,most) told_reading(value,program,most) told_anew(deed,row,program,most) told_written(deed,row,program,most)",
+    "lifemoves": "is_stop(value) is_state(value) is_move(value) is_play(value) next_word(program) answerers_around(program) stops_holding(state) moved(state,move) "
+                 "all_moved(state,play)",
+    "lifeprofiles": "profile(program,most) places_worked(program,most)",
+    "lifetexts": "state_picture(state) read_picture(value)",
 }
+# The methods of each class, with their arguments.
+CLASSES = {
+    ("heapruns", "HeapRun"): "__init__(program) step() collect(clearing) standing() cells() end() unloaded() roots() __len__()",
+    ("lifevalues", "Code"): "__init__(program) __call__(other) __add__(other) __sub__(other) __mul__(other) __iadd__(other) __or__(other) __rshift__(other) __invert__() "
+                            "__getitem__(at) __contains__(x) __len__() __bool__() __str__() __iter__() __eq__(other)",
+    ("lifebenches", "Bench"): "__init__(state) do(move) __iadd__(other) undo() redo() attempt(action) __getitem__(at) __contains__(x) __len__() __bool__() __iter__() "
+                              "__eq__(other) lines()",
+}
+END = ("shape", "End", ())
 ROWS = [rows_of("Two(0, _)", "Two(x, 1)", "_"), rows_of("Yes()", "No()", "x"), (ANY,)]
 FLAT = [flat_form(read_tree(text)) for text in (A, B, C)]
 CODES = [code_of(read_tree(text)) for text in (A, B, C)]
@@ -69,9 +97,17 @@ GOOD = {
     "body": trees(97, 6, 3) + [read_tree("k 1"), read_tree("k (k 1)"), read_tree("match x {0 -> k 1; _ -> k 2}")], "rest": ["k", "x"],
     "pairs": [(), (("ask", NUM),), (("ask", NUM), ("pick", NUM))], "heap": HEAPS[:3] + HEAPS[5:9] + [(CELL, None, (("b",), (0,)))], "roots": [(), (0,), (None, ("num", 1))],
 }
-ALIKE = {"other": "tree", "one": "tree", "narrow": "kinding", "wide": "kinding"}
-ALIKE_IN = {"are_shown_alike": {"other": "engine"}, "asked": {"answers": "pairs"}}
+GOOD.update({
+    "address": [0, 1, 2], "clearing": ["copy", "slide", "sweep", "count", "rings", "none"], "every": [1, 7, 2000], "pattern": [ANY, ("bind", "x"), ("shapeis", "Two", (("numis", 1), ANY))],
+    "bettering": [("fold", (), ()), ("call", (), ()), ("let", (0,), ()), ("idle", (), (0,)), ("share", (), ("z", ((0,), (1,))))], "steps": [(), (("fold", (), ()),), (("let", (), ()), ("fold", (), ()))],
+    "values": [(), (NUM,), (NUM, ("shape", "No", ()))], "programs": [(read_tree(A),), (NUM, read_tree(B), NUM)], "row": [END, ("shape", "Row", (NUM, END))],
+    "state": SOME_STATES, "move": MOVES, "play": [(), (("step",),), (("plain",), ("go", 3))],
+})
+ALIKE = {"other": "tree", "one": "tree", "narrow": "kinding", "wide": "kinding", "deed": "name"}
+ALIKE_IN = {"are_shown_alike": {"other": "engine"}, "asked": {"answers": "pairs"}, "better_by": {"paper": "steps"}, "is_better_paper": {"value": "steps"}, "is_bettering": {"value": "bettering"},
+            "is_stop": {"value": "state"}, "is_state": {"value": "state"}, "is_move": {"value": "move"}, "is_play": {"value": "play"}, "read_picture": {"value": "text"}}
 WRONG = (NO_TREES + NO_PROGRAMS + NO_BOOKS + NO_KINDINGS + NO_PATHS + NO_STOCKS + NO_ROWS + NO_CODES + NO_HEAPS + NO_ANSWERS
+         + NO_STATES + NO_MOVES + [("tell", Code(NUM)), Code(NUM), Bench(SOME_STATES[0]), HeapRun(NUM), (Code(NUM),), ("num", HeapRun(NUM)), ("step", Bench(SOME_STATES[0]))]
          + [errors.NearError("x"), errors.TooMany(1), -1, 10 ** 119, "\n", ("test", (), (), ()), ("split", (), ()), 7])
 
 
@@ -122,6 +158,15 @@ class ConventionsTest(unittest.TestCase):
             self.assertEqual(function.__module__, "nearanswer." + module)
             self.assertTrue(function.__doc__)
 
+    def test_classes(self):
+        for (module, name), told in CLASSES.items():
+            one = getattr(importlib.import_module("nearanswer." + module), name)
+            self.assertEqual(one.__module__, "nearanswer." + module)
+            for method in told.split():
+                word, arguments = method[:-1].split("(")
+                self.assertIn(word, vars(one))
+                self.assertEqual(list(inspect.signature(vars(one)[word]).parameters)[1:], arguments.split(",") if arguments else [], (name, word))
+
     def test_any_values_are_taken(self):
         bender = Bender(94)
         for function, arguments in kinded_functions():
@@ -161,7 +206,8 @@ class ConventionsTest(unittest.TestCase):
                     behind = [bender.good(argument) for argument in arguments[at + 1:]]
                     told = self.outcome(function, ahead + [wrong] + [errors.NearError("wrong") for _ in behind])
                     good = self.outcome(function, ahead + [wrong] + behind)
-                    if self.is_wrong(good) and good[0] is not errors.TooMany and self.raised_at(function, ahead, wrong, behind, bender, arguments, at):
+                    # A heap without cells is none of the wrong ones, but has no address.
+                    if self.is_wrong(good) and good[0] not in (errors.TooMany, errors.InvalidAddress) and self.raised_at(function, ahead, wrong, behind, bender, arguments, at):
                         self.assertEqual(told, good, (function, ahead, wrong))
 
     def raised_at(self, function, ahead, wrong, behind, bender, arguments, at):
