@@ -1,7 +1,7 @@
 """Programs as values."""
 
 from nearanswer.bindings import plain
-from nearanswer.checks import check_bounds, check_name, check_number, check_path, check_program, check_value
+from nearanswer.checks import check_name, check_number, check_path, check_program, check_value
 from nearanswer.errors import InvalidName, InvalidProgram
 from nearanswer.moving import answered_by, word_of
 from nearanswer.runs import led_on
@@ -15,12 +15,6 @@ def tree_in(value):
     if not isinstance(value, Code):
         raise InvalidProgram("this is no Code")
     return value.tree
-
-
-def joined(tree):
-    """The Code of a program that is built of others."""
-    check_bounds(tree)
-    return Code(tree)
 
 
 class Code:
@@ -52,21 +46,20 @@ class Code:
 
     def __call__(self, other):
         """The call of the one with the other one."""
-        return joined(("call", self._tree, tree_in(other)))
+        return Code(("call", self._tree, tree_in(other)))
 
     def __add__(self, other):
-        return joined(("op", "+", self._tree, tree_in(other)))
+        return Code(("op", "+", self._tree, tree_in(other)))
 
     def __sub__(self, other):
-        return joined(("op", "-", self._tree, tree_in(other)))
+        return Code(("op", "-", self._tree, tree_in(other)))
 
     def __mul__(self, other):
-        return joined(("op", "*", self._tree, tree_in(other)))
+        return Code(("op", "*", self._tree, tree_in(other)))
 
     def __iadd__(self, other):
-        tree = ("op", "+", self._tree, tree_in(other))
-        check_bounds(tree)
-        self._tree = tree
+        whole = self + other
+        self._tree = whole.tree
         return self
 
     def __or__(self, other):
@@ -76,7 +69,7 @@ class Code:
         deed, value = other
         check_name(deed)
         check_value(value)
-        return joined(answered_by(self._tree, deed, value))
+        return Code(answered_by(self._tree, deed, value))
 
     def __rshift__(self, other):
         """The program behind so many steps, or at its end."""

@@ -17,9 +17,7 @@ def place_in(program):
 
 def is_at_end(trail, spot):
     """Whether a program is at an end, by its next place."""
-    if len(trail) == 0 and holds_value(spot):
-        return True
-    return stop_at(trail, spot) is not None
+    return holds_value(spot) or stop_at(trail, spot) is not None
 
 
 def many_answerers(trail):

@@ -33,7 +33,7 @@ def by_plain(spot):
 
 
 def by_fold(spot):
-    if spot[0] != "op" or spot[2][0] != "num" or spot[3][0] != "num" or stuck_at(spot) is not None:
+    if spot[0] != "op" or stuck_at(spot) is not None:
         return None
     return worked_out(spot[1], spot[2][1], spot[3][1])
 

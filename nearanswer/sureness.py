@@ -33,7 +33,7 @@ def is_quiet_itself(tree):
     if word == "match":
         return any([row[0][0] == "any" or row[0][0] == "bind" for row in tree[2]])
     if word == "op":
-        return tree[2][0] == "num" and tree[3][0] == "num" and stuck_at(tree) is None
+        return stuck_at(tree) is None
     return word != "call" and word != "do"
 
 

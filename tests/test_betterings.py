@@ -28,7 +28,8 @@ ROWS = [
     ("call", (), "(fun x -> let y = x in 1) y", "let y = y in 1"), ("call", (), "(fun x -> match x {y -> y}) y", "match y {y -> y}"), ("call", (), "(fun x -> match 1 {Two(y, _) -> x}) y", None),
     ("let", (), "let x = 2 in x + x", "2 + 2"), ("let", (), "let x = 1 + 1 in x", None), ("let", (), "let x = y in fun y -> x", None), ("let", (), "let x = x in 1", None),
     ("let", (), "let x = fun y -> z in fun z -> x", None), ("let", (), "let x = fun y -> z in fun y -> x", "fun y -> fun y -> z"), ("let", (), "let x = y in match 1 {y -> y}", "match 1 {y -> y}"),
-    ("let", (), "let x = Two(y, 1) in x", "Two(y, 1)"), ("let", (), "let x = Two(y, 1 + 1) in x", None), ("let", (), "fun x -> x", None), ("let", (), "rec x y = 1 in x", None),
+    ("let", (), "let x = y in fun y -> fun x -> 1", "fun y -> fun x -> 1"), ("let", (), "let ask = y in fun y -> do ask 1", "fun y -> do ask 1"),
+    ("let", (), "let x = y in fun y -> let x = 1 in x", "fun y -> let x = 1 in x"), ("let", (), "let x = Two(y, 1) in x", "Two(y, 1)"), ("let", (), "let x = Two(y, 1 + 1) in x", None), ("let", (), "fun x -> x", None), ("let", (), "rec x y = 1 in x", None),
     ("plain", (), "answer 1 {plain x -> x + 1; ask x k -> k x}", "1 + 1"), ("plain", (), "answer 1 + 1 {plain x -> x}", None), ("plain", (), "answer x {plain x -> 1}", None),
     ("plain", (), "answer y {plain x -> fun y -> x}", None), ("plain", (), "answer Two(y, y) {plain x -> x}", "Two(y, y)"), ("plain", (), "let x = 1 in x", None),
     ("fold", (), "1 + 2", "3"), ("fold", (), "1 < 2", "Yes()"), ("fold", (), "2 = 3", "No()"), ("fold", (), "2 = 2", "Yes()"), ("fold", (), "1 - 2", "(-1)"), ("fold", (), "2 * 3", "6"),
@@ -262,7 +263,7 @@ class BetteringsTest(unittest.TestCase):
                 for value in ((chance.choice(["call", "let", "plain", "fold", "out", "drop", "share"]), path, more), (word, path + (0,), more), (word, path[:-1], more), (word, path, more + (0,)),
                               (word, path, (1,)), (word, path, ()), (word, path, (0,)), (word, path, None), (word, list(path), more), (word, path, list(more)), [word, path, more], (word, path),
                               (word, path, more, ()), (word.upper(), path, more), (word + " ", path, more), (word, None, more), (word, path, (True,)), (word, path, (-1,)), (word, path, (99,)),
-                              ((word,), path, more), (None, path, more), (word, (True,), more), (word, (False,), more), ("other", path, more), ((), (), ()), None, word, 1):
+                              ((word,), path, more), ([word], path, more), ({}, path, more), (None, path, more), (word, (True,), more), (word, (False,), more), ("other", path, more), ((), (), ()), None, word, 1):
                     kinds = isinstance(value, tuple) and len(value) == 3 and all(type(index) is int for part in value[1:] if isinstance(part, tuple) for index in part)
                     told = kinds and type(value[2]) is tuple and type(value[1]) is tuple and value in able
                     self.assertIs(is_bettering(tree, value), told, (tree_text(tree), value))

@@ -145,9 +145,11 @@ class BetterPapersTest(unittest.TestCase):
         tree = ("let", "x", sized(100), ("shape", "Row", (X, X, X, ("op", "+", NUM, X))))
         self.assertEqual([step[0] for step in made_better(tree, 200)[1]], ["let"])
         self.assertEqual(tree_size(made_better(tree, 200)[0]), 403)
-        inner = ("let", "x", sized(99), ("shape", "Row", (X, X, X, SUM)))
-        whole = ("shape", "Two", (inner, ("shape", "Row", (sized(100 - 11),))))
-        self.assertEqual([step[0] for step in made_better(whole, 200)[1]], ["fold", "let"])
+        pick = ("match", NUM, ((("any",), NUM),))
+        for parts, size, words in (((X, X), 400, ["let", "pick"]), ((X, X, NUM), 401, ["let"]), ((X, X, NUM, NUM), 402, ["let"])):
+            whole = ("shape", "Two", (("let", "x", sized(197), ("shape", "Row", parts)), pick))
+            self.assertEqual(tree_size(bettered(whole, ("let", (0,), ()))), size)
+            self.assertEqual([step[0] for step in made_better(whole, 200)[1]], words)
         endless = read_tree("(fun x -> x x) (fun x -> x x)")
         self.assertEqual(made_better(endless, 200), (endless, (("call", (), ()),) * 200))
 

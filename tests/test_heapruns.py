@@ -1,12 +1,14 @@
 """[41], [42], [80], [81], and of [3] what is said of heap runs: standings, steps, clearing, unloaded trees and ends."""
 
 import unittest
+from unittest import mock
 
 from answerers import answerer_programs
 from heapmodel import Full, HeapModel
 from kinded import kinded_programs
 from lasting import last_programs
 from making import NO_PROGRAMS, NO_TREES, NUM, A, B, C, checked, programs, size_of, sized
+from nearanswer import unloading
 from nearanswer.collectors import copied_heap, let_go, rings_held, slid_heap, swept_heap
 from nearanswer.errors import InvalidClearing, InvalidNumber, InvalidProgram, InvalidTree, TooMany
 from nearanswer.heapruns import HeapRun, heap_run
@@ -47,6 +49,14 @@ def shared(size):
 def chain(depth):
     """The text of a program that comes to a shape of just this depth."""
     return "rec f x = match x {0 -> 0; _ -> One(f (x - 1))} in f " + str(depth - 1)
+
+
+def shown_size(shown):
+    return 1 + sum(shown_size(part) for part in shown[1]) if isinstance(shown, tuple) else 1
+
+
+def shown_depth(shown):
+    return 1 + max([shown_depth(part) for part in shown[1]], default=0) if isinstance(shown, tuple) else 1
 
 
 def led(program, most=2000, clearing=None):
@@ -259,6 +269,28 @@ class HeapRunsTest(unittest.TestCase):
         self.assertEqual(run.end()[0], "value")
         checked(self, (TooMany, {"limit": 3000}), run.unloaded)
         self.assertEqual(HeapRun(match).unloaded(), match)
+
+    def test_counts_of_what_is_unloaded(self):
+        """With bounds that are just as great as what comes, it comes; with lower ones, it does not."""
+        deepest = read_tree("answer do tell (do tell (do ask 1)) {plain x -> x; ask x k -> k}")
+        for program in some_programs(426, 90, 4) + [deepest]:
+            run = HeapRun(program)
+            while len(run) < 120:
+                self.check_bounds(run.unloaded, tree_size, tree_depth)
+                if run.step() is None:
+                    if run.end()[0] != "stuck":
+                        self.check_bounds(run.end, lambda end: shown_size(end[-1]), lambda end: shown_depth(end[-1]))
+                    break
+
+    def check_bounds(self, action, size_told, depth_told):
+        told = action()
+        size, depth = size_told(told), depth_told(told)
+        for most, deep, is_let in ((size, depth, True), (size - 1, depth, False), (size, depth - 1, False)):
+            with mock.patch.object(unloading, "MOST_SIZE", most), mock.patch.object(unloading, "MOST_DEPTH", deep):
+                if is_let:
+                    self.assertEqual(action(), told)
+                else:
+                    checked(self, (TooMany, {"limit": most}), action)
 
     def test_deep_values(self):
         run = led(read_tree(chain(120)))

@@ -206,6 +206,11 @@ class PlainModelsTest(unittest.TestCase):
                            ("do ask 1 + do ask 2 + do ask 3", ("unanswered", "ask", 3)), ("1 + No()", ("stuck", "number"))):
             self.assertEqual(self.told(told_written, text, "ask", two, 9), told)
         self.assertEqual(self.told(told_anew, "do ask 1", "ask", END, 0), ("unanswered", "ask", 1))
+        # Deeds with the names of reasons.
+        for deed, text in (("call", "1 2"), ("number", "1 + No()"), ("great", "999999999999 * 2")):
+            self.assertEqual(self.told(told_anew, text, deed, two, 9), ("stuck", deed))
+            self.assertEqual(self.told(told_written, text, deed, two, 9), ("stuck", deed))
+            self.assertEqual(self.told(told_anew, "do " + deed + " 1", deed, two, 9), ("value", 10))
 
     def test_bounds_of_steps(self):
         for model, arguments, deed in ((told_state, (NUM,), "get"), (told_rows, (), "hand"), (told_reading, (NUM,), "fail")):

@@ -174,7 +174,7 @@ class QuietTest(unittest.TestCase):
                            ("rec f x = f (do ask x) in f", True), ("rec f x = x in f 1", False), ("rec f x = x in do ask 1", False), ("match x {0 -> do ask 1}", False),
                            ("match x {0 -> f 1}", False), ("answer 1 {plain x -> do ask x}", False), ("answer 1 {plain x -> x; ask x k -> do ask x}", False),
                            ("answer 1 {plain x -> x; ask x k -> k x}", False), ("answer 1 {plain x -> x; ask x k -> fun y -> k y}", True), ("answer do tell 1 {plain x -> x; ask x k -> 1}", True),
-                           ("Two(1, do ask 2)", False), ("1 + do ask 2", False), ("let x = do ask 1 in x", False), ("let x = 1 in do ask x", False), ("x + y * 2", True)):
+                           ("Two(1, do ask 2)", False), ("1 + do ask 2", False), ("let ask = 1 in ask", True), ("rec ask f = f in ask", True), ("match 1 {ask -> ask}", True), ("do tell ask", True), ("let x = do ask 1 in x", False), ("let x = 1 in do ask x", False), ("x + y * 2", True)):
             self.assertIs(is_silent(read_tree(text), "ask"), told, text)
 
     def test_open_places(self):
