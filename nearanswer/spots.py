@@ -82,7 +82,7 @@ def by_calm(spot):
 
 
 def by_deed(spot):
-    if spot[0] != "answer" or holds_sure(spot[1]) or "it" in free_in(spot):
+    if spot[0] != "answer" or "it" in free_in(spot):
         return None
     trail, do = open_trail(spot)
     if do[0] != "do":
@@ -95,8 +95,6 @@ def by_deed(spot):
 
 
 def by_out(spot):
-    if spot[0] == "rec" or spot[0] == "fun":
-        return None
     index = first_unsure(spot)
     if index is None:
         return None

@@ -45,7 +45,7 @@ def shown_end(end):
 def worked_parts(tree):
     """The first parts of a tree that are worked out before anything is done with it."""
     word = tree[0]
-    if word == "rec":
+    if word == "fun" or word == "rec":
         return []
     if word in ("let", "match", "do", "answer"):
         return parts_in(tree)[:1]

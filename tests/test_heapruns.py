@@ -212,6 +212,12 @@ class HeapRunsTest(unittest.TestCase):
         self.assertEqual(heap[7:9], ((("bind", "a"), (("num", 7), None)), (("bind", "b"), (5, 7))))
         self.assertEqual(heap[5:7], ((("shape", "Yes"), ()), (("shape", "Two"), (("num", 7), 5))))
 
+    def test_fits(self):
+        """Rows of a match that do not fit for each reason, ahead of one that does."""
+        rows = "{Two(a, b) -> 1; 7 -> 3; Two(Two(a)) -> 4; Two(a, b, c) -> 6; Two(a) -> a; _ -> 8}"
+        for text, told in (("Two(9)", 9), ("Two(Two(1))", 4), ("7", 3), ("One(1)", 8), ("Two(1, 2)", 1), ("Two(1, 2, 3)", 6), ("Two()", 8), ("fun x -> x", 8), ("8", 8), ("Three(1)", 8)):
+            self.assertEqual(led(read_tree("match " + text + " " + rows)).end(), ("value", told))
+
     def test_rests(self):
         """A rest is gone on with never, once, later and twice."""
         for text, end in (("answer do ask 1 + 2 {plain x -> x; ask x k -> 5}", 5), ("answer do ask 1 + 2 {plain x -> x; ask x k -> k 5}", 7),
