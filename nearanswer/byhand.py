@@ -84,15 +84,16 @@ class Branches:
             self.picks.pop()
         if len(self.picks) == 0:
             return False
-        if self.by_hand.left == 0:
+        hand = self.by_hand
+        if hand.left == 0:
             self.outcome = MORE
             return False
         trail, number, many, row = self.picks.pop()
         self.picks.append((trail, number + 1, many, row))
-        self.by_hand.left = self.by_hand.left - 1
         self.row = row
         self.is_open = True
-        self.by_hand.run(put_around(trail, ("num", number)))
+        hand.left = hand.left - 1
+        hand.run(put_around(trail, ("num", number)))
         return True
 
     def leave(self):
